@@ -1,0 +1,1 @@
+"""Rules over facts, and what no history ever tells apart."""

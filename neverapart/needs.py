@@ -1,0 +1,56 @@
+"""What arguments have to be: each function raises the error of its form for any other object."""
+
+from neverapart.errors import InvalidBook, InvalidFact, InvalidQuestion, InvalidRule, InvalidStore, NotPlain
+from neverapart.forms import is_fact, is_store
+from neverapart.rules import Book, Question, Rule
+
+
+def need_fact(value):
+    """Lets facts pass."""
+    if not is_fact(value):
+        raise InvalidFact(value)
+
+
+def need_store(value):
+    """Lets stores pass."""
+    if not is_store(value):
+        raise InvalidStore(value)
+
+
+def need_rule(value):
+    """Lets rules pass."""
+    if not isinstance(value, Rule):
+        raise InvalidRule(value)
+
+
+def need_plain_rule(value):
+    """Lets rules without denied patterns pass."""
+    need_rule(value)
+    if value.denied != []:
+        raise NotPlain(value)
+
+
+def need_book(value):
+    """Lets books pass."""
+    if not isinstance(value, Book):
+        raise InvalidBook(value)
+
+
+def need_plain_book(value):
+    """Lets books without denied patterns pass."""
+    need_book(value)
+    if not value.plain:
+        raise NotPlain(value)
+
+
+def need_question(value):
+    """Lets questions pass."""
+    if not isinstance(value, Question):
+        raise InvalidQuestion(value)
+
+
+def need_plain_case(book, store, fact):
+    """Lets plain books, stores and facts pass, looked at in this order."""
+    need_plain_book(book)
+    need_store(store)
+    need_fact(fact)

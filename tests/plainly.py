@@ -1,0 +1,195 @@
+"""What the tests share: samples, wrong objects, and the promises worked out by going through all there is."""
+
+import random
+from itertools import combinations, product
+
+from neverapart import errors
+from neverapart.rules import Book, Question, Rule
+
+STEP = Rule("step", ("way", "X", "Y"), [("road", "X", "Y")])
+FAR = Rule("far", ("way", "X", "Z"), [("way", "X", "Y"), ("way", "Y", "Z")])
+LONG = Rule("long", ("way", "X", "Z"), [("road", "X", "Y"), ("way", "Y", "Z")])
+DRY = Rule("dry", ("dry", "X"), [("hut", "X")], None, [("rain",)])
+WAYS = Book([STEP, FAR])
+ROW = [("road", "a", "b"), ("road", "b", "c")]
+TOWN = [("road", "a", "b"), ("road", "b", "c"), ("road", "c", "a"), ("hut", "c")]
+TWO = Question(["X", "Z"], [("road", "X", "Y"), ("road", "Y", "Z"), ("hut", "Z")])
+
+ODD = [None, True, False, 0, 1, -1, "", "road", "X", [], (), {}, [[]], ((),), {"a": "b"}, {True: 1}, [None], (None,), STEP, WAYS, TWO]
+NO_NAMES = ["", "aaaaaaaaaaa", "A", "aB", "a b", "a1", " a", "a\n", None, True, 0, ("a",), ["a"], {}, STEP]
+NO_FACTS = [
+    (), ("",), ("aaaaaaaaaaa",), ("Road", "a"), ("road", "X"), ("road", ""), ("road", "aaaaaaaaaaa"), ("road", "a1"),
+    ("road", "a", "b", "c", "d"), ("road", ["a"]), ("road", ("a",)), ("road", None), ("road", True), (1,), ["road", "a"],
+    [("road", "a")],
+]
+NO_STORES = [
+    [()], ROW + ROW[:1], tuple(ROW), [("road", "X", "b")], [["road", "a", "b"]], ROW + [None], ROW[0], [STEP], {ROW[0]: True},
+]
+
+
+def but(objects, *forms):
+    """Objects without those that have one of these forms."""
+    return [thing for thing in objects if not any(form(thing) for form in forms)]
+
+
+def empty_list(thing):
+    return isinstance(thing, list) and not thing
+
+
+def of(kind):
+    return lambda thing: isinstance(thing, kind)
+
+
+# For each kind of argument: the error for wrong objects, and wrong objects.
+WRONG = {
+    "fact": [(errors.InvalidFact, thing) for thing in ODD + NO_FACTS],
+    "store": [(errors.InvalidStore, thing) for thing in but(ODD, empty_list) + NO_STORES],
+    "rule": [(errors.InvalidRule, thing) for thing in but(ODD, of(Rule))],
+    "book": [(errors.InvalidBook, thing) for thing in but(ODD, of(Book)) + [[STEP]]],
+    "question": [(errors.InvalidQuestion, thing) for thing in but(ODD, of(Question))],
+    "text": [(errors.InvalidText, thing) for thing in but(ODD, of(str)) + ["\n", "road(", "a\n", "road(a,b)"]],
+}
+WRONG["plain rule"] = WRONG["rule"] + [(errors.NotPlain, DRY)]
+WRONG["plain book"] = WRONG["book"] + [(errors.NotPlain, Book([STEP, DRY]))]
+
+
+def refused(test, error, value, call, *arguments, **named):
+    """A call raises just this error, and its field holds just this object."""
+    try:
+        call(*arguments, **named)
+    except errors.NeverError as caught:
+        test.assertIs(type(caught), error, (call, arguments, named))
+        test.assertIs(caught.value, value, (call, arguments, named))
+    else:
+        test.fail(f"nothing raised: {call} {arguments} {named}")
+
+
+def refuses_wrong(test, call, names, kinds, right):
+    """A function refuses wrong objects in each place, alone and with wrong ones behind them."""
+    for place, kind in enumerate(kinds):
+        if kind is None:
+            continue
+        for error, thing in WRONG[kind]:
+            alone = right[:place] + [thing] + right[place + 1:]
+            refused(test, error, thing, call, *alone)
+            for worse in ((), {1: 1}):
+                behind = right[:place] + [thing] + [worse] * (len(right) - place - 1)
+                refused(test, error, thing, call, *behind)
+                refused(test, error, thing, call, **dict(reversed(list(zip(names, behind)))))
+
+
+def variables_in(patterns):
+    found = []
+    for pattern in patterns:
+        for term in pattern[1:]:
+            if term.isupper() and term not in found:
+                found.append(term)
+    return found
+
+
+def put(pattern, names):
+    return (pattern[0],) + tuple(names.get(term, term) for term in pattern[1:])
+
+
+def names_in_rules(rules):
+    terms = [t for r in rules for p in [r.head] + r.told for t in p[1:]] + [t for r in rules for p in r.pairs for t in p]
+    return sorted({t for t in terms if t.islower()})
+
+
+def all_matches(told, pairs, store):
+    """All matches, as dictionaries: all ways of giving names are gone through."""
+    store = set(store)
+    terms = variables_in(told)
+    names = sorted({name for fact in store for name in fact[1:]})
+    found = []
+    for row in product(names, repeat=len(terms)):
+        names_of = dict(zip(terms, row))
+        if all(put(p, names_of) in store for p in told) and all(names_of.get(a, a) != names_of.get(b, b) for a, b in pairs):
+            found.append(names_of)
+    return found
+
+
+def all_steps(rules, store):
+    """All tuples (label, told facts, head) at all matches in a store."""
+    return [
+        (rule.label, [put(p, names) for p in rule.told], put(rule.head, names))
+        for rule in rules for names in all_matches(rule.told, rule.pairs, store)
+    ]
+
+
+def all_rounds(rules, store):
+    lists = [sorted(store)]
+    while True:
+        there = [fact for facts in lists for fact in facts]
+        fresh = sorted({head for _, _, head in all_steps(rules, there)} - set(there))
+        if not fresh:
+            return lists
+        lists.append(fresh)
+
+
+def all_that_follows(rules, store):
+    return sorted(fact for facts in all_rounds(rules, store) for fact in facts)
+
+
+def all_subsets(things):
+    return [list(some) for many in range(len(things) + 1) for some in combinations(things, many)]
+
+
+def all_bodies(rule, names):
+    """All ways to give a rule these names, or as many others as it has variables."""
+    terms = variables_in(rule.told)
+    fresh = [f"z{'z' * k}" for k in range(len(terms))]
+    found = []
+    for row in product(list(names) + fresh, repeat=len(terms)):
+        of_terms = dict(zip(terms, row))
+        if all(of_terms.get(a, a) != of_terms.get(b, b) for a, b in rule.pairs):
+            found.append((sorted({put(p, of_terms) for p in rule.told}), put(rule.head, of_terms)))
+    return found
+
+
+def rule_follows(rules, rule):
+    names = names_in_rules(rules + [rule])
+    return all(fact in all_that_follows(rules, store) for store, fact in all_bodies(rule, names))
+
+
+class Chance:
+    """Rules, books and stores drawn by a number, the same each time."""
+
+    def __init__(self, seed, names="abc", kinds=(("p", 1), ("q", 2), ("r", 2), ("s", 0)), letters="XYZ", pairs=True):
+        self.draw = random.Random(seed)
+        self.names, self.kinds, self.letters, self.pairs = list(names), list(kinds), list(letters), pairs
+
+    def pattern(self, terms):
+        word, number = self.draw.choice(self.kinds)
+        return (word,) + tuple(self.draw.choice(terms) for _ in range(number))
+
+    def told(self, most=3, least=0):
+        terms = self.letters * 3 + self.names[:2]
+        return [self.pattern(terms) for _ in range(self.draw.randint(least, most))]
+
+    def some_pairs(self, told):
+        terms = variables_in(told)
+        pairs = []
+        if self.pairs and terms and self.draw.random() < 0.4:
+            for _ in range(self.draw.randint(1, 2)):
+                one = self.draw.choice(terms)
+                other = self.draw.choice([t for t in terms + self.names[:1] if t != one])
+                pairs.append(self.draw.choice([(one, other), (other, one)]))
+        return pairs
+
+    def rule(self, label, most=3):
+        told = self.told(most)
+        return Rule(label, self.pattern(variables_in(told) * 3 + self.names[:1]), told, self.some_pairs(told))
+
+    def book(self, many, most=3):
+        return Book([self.rule(label, most) for label in "jklmno"[:many]])
+
+    def question(self, most=3):
+        told = self.told(most)
+        terms = variables_in(told)
+        return Question([t for t in terms if self.draw.random() < 0.5], told, self.some_pairs(told))
+
+    def store(self, many):
+        facts = sorted({self.pattern(self.names) for _ in range(many)})
+        self.draw.shuffle(facts)
+        return facts

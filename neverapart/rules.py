@@ -171,6 +171,6 @@ def _has_double(labels):
 
 def _place(label, labels):
     """The place of a label among others; any object may be asked for."""
-    if not isinstance(label, str) or label not in labels:
+    if label not in labels:
         raise UnknownName(label)
     return labels.index(label)

@@ -53,7 +53,7 @@ WRONG["plain rule"] = WRONG["rule"] + [(errors.NotPlain, DRY)]
 WRONG["plain book"] = WRONG["book"] + [(errors.NotPlain, Book([STEP, DRY]))]
 
 
-def refused(test, error, value, call, *arguments, **named):
+def refused(test, error, value, call, /, *arguments, **named):
     """A call raises just this error, and its field holds just this object."""
     try:
         call(*arguments, **named)
@@ -163,8 +163,9 @@ class Chance:
         word, number = self.draw.choice(self.kinds)
         return (word,) + tuple(self.draw.choice(terms) for _ in range(number))
 
-    def told(self, most=3, least=0):
-        terms = self.letters * 3 + self.names[:2]
+    def told(self, most=3):
+        terms = self.letters * 5 + self.names[:2]
+        least = 0 if self.draw.random() < 0.1 else 1
         return [self.pattern(terms) for _ in range(self.draw.randint(least, most))]
 
     def some_pairs(self, told):
@@ -179,10 +180,10 @@ class Chance:
 
     def rule(self, label, most=3):
         told = self.told(most)
-        return Rule(label, self.pattern(variables_in(told) * 3 + self.names[:1]), told, self.some_pairs(told))
+        return Rule(label, self.pattern(variables_in(told) * 5 + self.names[:1]), told, self.some_pairs(told))
 
     def book(self, many, most=3):
-        return Book([self.rule(label, most) for label in "jklmno"[:many]])
+        return Book([self.rule(label, most) for label in "jklmnopqrstu"[:many]])
 
     def question(self, most=3):
         told = self.told(most)

@@ -2,7 +2,11 @@
 
 import unittest
 
+from neverapart.books import alike, bodies, check_parting, follows, lean, needless, parting, reasons, within
+from neverapart.closing import breach, closed, is_closed, rounds
+from neverapart.lots import adds, cuts, state, supports
 from neverapart.matching import best_order, matches, matches_with, partials, variables
+from neverapart.papers import check_paper, count_papers, least_height, least_size, smallest, why
 from neverapart.rules import Book, Question, Rule
 from neverapart.texts import book_text, fact_text, read_book, read_fact, read_rule, renamed, rule_text, store_text
 
@@ -12,6 +16,8 @@ ways = Book([step, far])
 other = Rule("other", ("meet", "X", "Y"), [("way", "X", "Z"), ("way", "Y", "Z")], [("X", "Y")], [("foe", "X", "Y")])
 town = [("road", "a", "b"), ("road", "b", "c"), ("road", "c", "a"), ("hut", "c")]
 two = Question(["X", "Z"], [("road", "X", "Y"), ("road", "Y", "Z"), ("hut", "Z")])
+row = [("road", "a", "b"), ("road", "b", "c")]
+long = Rule("long", ("way", "X", "Z"), [("road", "X", "Y"), ("way", "Y", "Z")])
 
 
 class Examples(unittest.TestCase):
@@ -40,6 +46,46 @@ class Examples(unittest.TestCase):
             [variables(two), matches(two, town), matches_with(two, town, ("road", "a", "b")), partials(two, town),
              best_order(two, town)],
             [['X', 'Y', 'Z'], [('a', 'b', 'c')], [('a', 'b', 'c')], [3, 3, 1], [2, 1, 0]])
+
+    def test_section_6(self):
+        self.assertEqual(
+            [rounds(ways, row), breach(ways, row), is_closed(ways, closed(ways, town)), len(closed(ways, town))],
+            [[[('road', 'a', 'b'), ('road', 'b', 'c')], [('way', 'a', 'b'), ('way', 'b', 'c')], [('way', 'a', 'c')]],
+             ('step', ('a', 'b')), True, 13])
+
+    def test_section_7_papers(self):
+        self.assertEqual(
+            [why(ways, row, ("way", "a", "b")), least_height(ways, row, ("way", "a", "c")),
+             least_size(ways, row, ("way", "a", "c")), why(ways, row, ("way", "c", "a"))],
+            [('by', 'step', ('way', 'a', 'b'), [('given', ('road', 'a', 'b'))]), 2, 3, None])
+        self.assertEqual(
+            [count_papers(ways, row, ("way", "a", "c")), count_papers(ways, town, ("way", "a", "b")),
+             count_papers(ways, row, ("hut", "a")),
+             check_paper(ways, row, ("road", "a", "b"), ("given", ("road", "a", "b")))],
+            [1, None, 0, True])
+        self.assertEqual(smallest(ways, row, ("way", "a", "b")), why(ways, row, ("way", "a", "b")))
+
+    def test_section_7_lots(self):
+        self.assertEqual(supports(ways, row, ("way", "a", "b")), [[('fact', ('road', 'a', 'b')), ('rule', 'step')]])
+        self.assertEqual(
+            [len(cuts(ways, row, ("way", "a", "c"))), cuts(ways, row, ("hut", "a")),
+             adds(ways, row, [("road", "c", "d"), ("way", "b", "d")], ("way", "a", "d"))],
+            [4, [[]], [[('road', 'c', 'd')], [('way', 'b', 'd')]]])
+        self.assertEqual(
+            [state(ways, row, ("way", "a", "c"), [("fact", row[0])], []),
+             state(ways, row, ("way", "a", "c"), [], [("hut", "a")]), state(ways, row, ("way", "c", "a"), [], row)],
+            ['possible', 'sure', 'never'])
+
+    def test_section_8(self):
+        self.assertEqual(
+            [follows(ways, long), alike(ways, Book([step, long])), within(Book([step, long]), ways),
+             parting(ways, ways + Book([long]))],
+            [True, False, True, None])
+        self.assertEqual(
+            [check_parting(ways, Book([step, long]), ([("way", "a", "b"), ("way", "b", "c")], ("way", "a", "c"))),
+             needless(ways + Book([long])), lean(ways + Book([long])) == ways, len(bodies(far, [])),
+             bodies(step, ["a"])[0], len(reasons(ways, far))],
+            [True, [2], True, 5, (('a', 'a'), [('road', 'a', 'a')], ('way', 'a', 'a')), 5])
 
 
 if __name__ == "__main__":

@@ -1,8 +1,14 @@
-"""[1], [2] and the interface: where names stand, what they take, and that nothing passed or returned is shared."""
+"""[1], [2], [3] and the interface: where names stand, what they take, and that limits alone raise no error."""
 
 import importlib
 import inspect
 import unittest
+
+from neverapart.books import follows, slim
+from neverapart.closing import closed
+from neverapart.matching import best_order, matches
+from neverapart.papers import count_papers
+from neverapart.rules import Book, Question, Rule
 
 INTERFACE = {
     "rules": {
@@ -18,6 +24,20 @@ INTERFACE = {
     "matching": {
         "variables": ["question"], "matches": ["question", "store"], "count_matches": ["question", "store"],
         "matches_with": ["question", "store", "fact"], "partials": ["question", "store"], "best_order": ["question", "store"],
+    },
+    "closing": {name: ["book", "store"] for name in ("closed", "is_closed", "breach", "rounds")},
+    "papers": {
+        **{name: ["book", "store", "fact"] for name in ("why", "smallest", "least_height", "least_size", "count_papers")},
+        "check_paper": ["book", "store", "fact", "value"],
+    },
+    "lots": {
+        "supports": ["book", "store", "fact"], "cuts": ["book", "store", "fact"], "adds": ["book", "store", "could", "fact"],
+        "state": ["book", "store", "fact", "taken", "put"],
+    },
+    "books": {
+        "bodies": ["rule", "names"], "follows": ["book", "rule"], "reasons": ["book", "rule"],
+        **{name: ["one", "other"] for name in ("within", "alike", "parting")}, "check_parting": ["one", "other", "value"],
+        **{name: ["book"] for name in ("needless", "lean", "slim")}, "check_reasons": ["book", "rule", "value"],
     },
 }
 MEMBERS = {
@@ -52,6 +72,35 @@ class Interface(unittest.TestCase):
                     self.assertIsInstance(thing, property)
                 else:
                     self.assertEqual(parameters(thing), expected, member)
+
+
+class Limits(unittest.TestCase):
+    def test_a_little_beyond_the_limits(self):
+        told = [("road", one, other) for one, other in zip("ABCDEF", "BCDEFG")]
+        rule = Rule("r", ("way", "A", "G"), told, [("A", "B"), ("B", "C"), ("C", "D")], [("p", "A"), ("q", "B"), ("r", "C")])
+        self.assertEqual([len(rule.told), len(rule.pairs), len(rule.denied)], [6, 3, 3])
+        names = "abcdefgh"
+        ring = [("road", one, other) for one, other in zip(names, names[1:] + names[0])]
+        ring = ring + [("hut", name) for name in names]
+        plain = Book([Rule("r" + name, rule.head, told) for name in names])
+        self.assertEqual([len(closed(plain, ring)), count_papers(plain, ring, ("way", "a", "g"))], [24, 8])
+        self.assertEqual(len(matches(Question(["A"], told), ring)), 8)
+        self.assertEqual(best_order(Question([], told[:5]), ring), [0, 1, 2, 3, 4])
+        self.assertTrue(follows(plain, Rule("s", ("way", "A", "G"), told)))
+        self.assertEqual(slim(plain), plain)
+
+
+class Values(unittest.TestCase):
+    def test_a_tuple_is_not_taken_for_a_list_nor_a_list_for_a_tuple(self):
+        for call in (lambda: matches(Question([], []), ()), lambda: Rule("r", ["rain"], []), lambda: closed(Book([]), [["rain"]])):
+            with self.assertRaises(ValueError):
+                call()
+
+    def test_equal_stores_in_another_order_and_doubles(self):
+        store = [("road", "b", "a"), ("road", "a", "b"), ("hut", "a")]
+        question = Question([], [("road", "X", "Y"), ("hut", "Z")])
+        self.assertEqual(matches(question, store), matches(question, store[::-1]))
+        self.assertEqual(matches(question, store), [("a", "b", "a"), ("b", "a", "a")])
 
 
 if __name__ == "__main__":

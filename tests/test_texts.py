@@ -152,7 +152,7 @@ class Renamed(unittest.TestCase):
     def test_names_that_are_no_exchange(self):
         for names in but(ODD, lambda thing: thing == {} and isinstance(thing, dict)) + [
                 {"a": "b"}, {"a": "b", "b": "b"}, {"a": "b", "b": "c"}, {"a": "a", "b": "a"}, {"a": "X", "X": "a"}, {"": ""}, {1: 1},
-                {"a": ["a"]}, {"a": None}, {None: "a"}, [("a", "a")], {"aaaaaaaaaaa": "aaaaaaaaaaa"}, {("a",): ("a",)}]:
+                {"a": ["a"]}, {"a": None}, {1: "a", "a": "b"}, {"a": 1, "b": "a"}, {None: "a"}, [("a", "a")], {"aaaaaaaaaaa": "aaaaaaaaaaa"}, {("a",): ("a",)}]:
             for thing in (ROW[0], ROW, STEP, WAYS, Question([], []), []):
                 refused(self, InvalidNames, names, renamed, thing, names)
 

@@ -2,8 +2,9 @@
 
 from neverapart.closing import leads_of, leads_to
 from neverapart.errors import InvalidNames, InvalidRule
-from neverapart.forms import filled, is_different_names, is_fact, is_store, names_among, variables_of
-from neverapart.joins import names_in
+from neverapart.forms import filled, is_different_names, is_fact, is_store, keeps_apart, variables_of
+from neverapart.givings import fresh_names, givings
+from neverapart.joins import names_of_rules
 from neverapart.needs import need_plain_book, need_plain_rule
 from neverapart.papers import is_paper, lowest_paper
 from neverapart.rules import Book, Rule
@@ -15,9 +16,9 @@ def bodies(rule, names):
     if not is_different_names(names):
         raise InvalidNames(names)
     terms = variables_of(rule.told)
-    fresh = _fresh_names(len(terms), names + _names_of([rule]))
-    bindings = [dict(zip(terms, match)) for match in _matches(len(terms), names, fresh)]
-    return sorted([_body(rule, binding) for binding in bindings if _keeps_apart(rule, binding)])
+    fresh = fresh_names(len(terms), names + names_of_rules([rule]))
+    bindings = [dict(zip(terms, match)) for match in givings(len(terms), names, fresh)]
+    return sorted([_body(rule, binding) for binding in bindings if keeps_apart(rule.pairs, binding)])
 
 
 def follows(book, rule):
@@ -97,7 +98,7 @@ def reasons(book, rule):
     rules = book.rules()
     leads = leads_of(rules)
     found = []
-    for match, store, fact in bodies(rule, _names_of(rules + [rule])):
+    for match, store, fact in bodies(rule, names_of_rules(rules + [rule])):
         paper = lowest_paper(rules, leads, store, fact)
         if paper is None:
             return None
@@ -110,7 +111,7 @@ def check_reasons(book, rule, value):
     need_plain_book(book)
     need_plain_rule(rule)
     rules = book.rules()
-    found = bodies(rule, _names_of(rules + [rule]))
+    found = bodies(rule, names_of_rules(rules + [rule]))
     if not isinstance(value, list) or len(value) != len(found):
         return False
     return all([_is_reason(rules, body, part) for body, part in zip(found, value)])
@@ -123,43 +124,14 @@ def _is_reason(rules, body, value):
     return is_paper(rules, store, fact, value[1])
 
 
-def _names_of(rules):
-    """The names that stand in plain rules, ascending."""
-    return names_among([name for rule in rules for name in names_in([rule.head] + rule.told, rule.pairs)])
-
-
-def _fresh_names(many, taken):
-    """The first fresh names, without taken ones."""
-    found = []
-    name = "x"
-    while len(found) < many:
-        if name not in taken:
-            found.append(name)
-        name = name + "x"
-    return found
-
-
-def _matches(many, names, fresh):
-    """All ways to give variables names of a list, or fresh ones, each next fresh one only behind the ones ahead."""
-    rows = [((), 0)]
-    for _ in range(many):
-        old = [(row + (name,), used) for row, used in rows for name in names + fresh[:used]]
-        rows = old + [(row + (fresh[used],), used + 1) for row, used in rows]
-    return [row for row, _ in rows]
-
-
 def _body(rule, binding):
     store = sorted({filled(pattern, binding) for pattern in rule.told})
     return tuple(binding.values()), store, filled(rule.head, binding)
 
 
-def _keeps_apart(rule, binding):
-    return all([binding.get(one, one) != binding.get(other, other) for one, other in rule.pairs])
-
-
 def _missing_body(rules, rule):
     """A body of a rule whose fact does not follow by other rules; None if the rule follows from them."""
-    names = _names_of(rules + [rule])
+    names = names_of_rules(rules + [rule])
     leads = leads_of(rules)
     for body in _deciding_bodies(rules, rule, names):
         if not leads_to(leads, body[1], body[2]):
@@ -173,7 +145,7 @@ def _deciding_bodies(rules, rule, names):
         return bodies(rule, names)
     # What follows by rules without pairs still does when names are exchanged for others, also unlike ones for one.
     terms = variables_of(rule.told)
-    return [_body(rule, dict(zip(terms, _fresh_names(len(terms), names))))]
+    return [_body(rule, dict(zip(terms, fresh_names(len(terms), names))))]
 
 
 def _follows(rules, rule):

@@ -39,14 +39,16 @@ def rounds(book, store):
 
 
 class Lead:
-    """A plain rule made ready to lead: to all its facts at once, or to those that new facts bring."""
+    """A rule made ready to lead, its denied patterns held against facts: to all it leads to, or to what is new."""
 
-    def __init__(self, rule):
+    def __init__(self, rule, against):
         self.pattern = rule.head
+        self.barred = rule.denied
+        self.against = against
         told, pairs = rule.told, rule.pairs
-        names = names_in([rule.head] + told, pairs)
+        names = names_in([rule.head] + told + self.barred, pairs)
         self.first = tuple(names)
-        self.whole = Plan(told, pairs, names)
+        self.at_once = Plan(told, pairs, names)
         # New facts are looked up ahead of all others, so that few new ones make short work.
         orders = [chained([told[place]], told[:place] + told[place + 1:]) for place in range(len(told))]
         self.turns = [Plan(order, pairs, names) for order in orders]
@@ -54,7 +56,7 @@ class Lead:
     def facts(self, shelf, new):
         """The facts to which the rule leads on a shelf: all, or those that hang on a fact of the new one."""
         if new is None:
-            return self._facts_by(self.whole, [shelf for _ in self.whole.steps])
+            return self._facts_by(self.at_once, [shelf for _ in self.at_once.steps])
         found = []
         for plan in self.turns:
             if plan.steps[0].kind in new:
@@ -62,12 +64,22 @@ class Lead:
         return found
 
     def _facts_by(self, plan, shelves):
-        return filled_rows(self.pattern, plan.terms, plan.rows(self.first, shelves))
+        rows = plan.rows(self.first, shelves)
+        for pattern in self.barred:
+            facts = filled_rows(pattern, plan.terms, rows)
+            rows = [row for row, fact in zip(rows, facts) if fact not in self.against]
+        return filled_rows(self.pattern, plan.terms, rows)
 
 
 def leads_of(rules):
     """Plain rules made ready to lead."""
-    return [Lead(rule) for rule in rules]
+    return [Lead(rule, {}) for rule in rules]
+
+
+def leads_against(rules, facts):
+    """Rules made ready to lead, their denied patterns held against facts."""
+    against = {fact: True for fact in facts}
+    return [Lead(rule, against) for rule in rules]
 
 
 def rounds_to(leads, store, goal):

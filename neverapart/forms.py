@@ -50,6 +50,23 @@ def is_pairs(value):
     return isinstance(value, list) and all([is_pair(part) for part in value])
 
 
+def is_whole(value):
+    """Whether any object is a whole number."""
+    return isinstance(value, int) and not isinstance(value, bool)
+
+
+def is_count(value):
+    """Whether any object is a count."""
+    return is_whole(value) and value >= 0
+
+
+def is_kind(value):
+    """Whether any object is a kind."""
+    if not isinstance(value, tuple) or len(value) != 2:
+        return False
+    return is_name(value[0]) and is_count(value[1]) and value[1] <= 3
+
+
 def is_different_names(value):
     """Whether any object is a list of different names."""
     return isinstance(value, list) and all([is_name(part) for part in value]) and len(set(value)) == len(value)
@@ -63,6 +80,11 @@ def kind_of(pattern):
 def terms_of(patterns):
     """The terms of patterns as they stand there, one behind the other."""
     return [term for pattern in patterns for term in pattern[1:]]
+
+
+def sides_of(pairs):
+    """The terms of pairs, one behind the other."""
+    return [term for pair in pairs for term in pair]
 
 
 def variables_among(terms):
@@ -84,6 +106,12 @@ def variables_of(patterns):
     return variables_among(terms_of(patterns))
 
 
+def has_more(terms, told):
+    """Whether a variable stands among terms that stands in no told pattern."""
+    known = variables_of(told)
+    return any([term not in known for term in variables_among(terms)])
+
+
 def bound(pattern, fact, binding):
     """The names that variables have when a pattern is to be a fact, beside those they have; None if it cannot be."""
     if kind_of(pattern) != kind_of(fact):
@@ -100,3 +128,20 @@ def bound(pattern, fact, binding):
 def filled(pattern, binding):
     """What a pattern becomes with these names for its variables."""
     return pattern[:1] + tuple([binding.get(term, term) for term in pattern[1:]])
+
+
+def keeps_apart(pairs, binding):
+    """Whether the terms of no pair are alike with these names for their variables."""
+    return all([binding.get(one, one) != binding.get(other, other) for one, other in pairs])
+
+
+def match_at(told, pairs, facts):
+    """The names of the variables at the match at which told patterns are facts, in their order; None without one."""
+    if len(told) != len(facts):
+        return None
+    binding = {}
+    for pattern, fact in zip(told, facts):
+        binding = bound(pattern, fact, binding)
+        if binding is None:
+            return None
+    return binding if keeps_apart(pairs, binding) else None

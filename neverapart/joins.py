@@ -4,7 +4,7 @@ A row is a tuple of names for terms, in the order in which the terms became know
 pairs are terms like variables, known from the beginning.
 """
 
-from neverapart.forms import kind_of, names_among, terms_of, variables_of
+from neverapart.forms import kind_of, names_among, sides_of, terms_of, variables_of
 
 
 class Step:
@@ -74,7 +74,12 @@ def by_kind(facts):
 
 def names_in(patterns, pairs):
     """The names that stand in patterns and pairs, ascending."""
-    return names_among(terms_of(patterns) + [term for pair in pairs for term in pair])
+    return names_among(terms_of(patterns) + sides_of(pairs))
+
+
+def names_of_rules(rules):
+    """The names that stand in rules, ascending."""
+    return names_among([name for rule in rules for name in names_in([rule.head] + rule.told + rule.denied, rule.pairs)])
 
 
 def met(told, pairs, shelf):

@@ -1,7 +1,17 @@
 """What arguments have to be: each function raises the error of its form for any other object."""
 
-from neverapart.errors import InvalidBook, InvalidFact, InvalidQuestion, InvalidRule, InvalidStore, NotPlain
-from neverapart.forms import is_fact, is_store
+from neverapart.deeds import Deed
+from neverapart.errors import (
+    InvalidBook,
+    InvalidDeed,
+    InvalidFact,
+    InvalidNumber,
+    InvalidQuestion,
+    InvalidRule,
+    InvalidStore,
+    NotPlain,
+)
+from neverapart.forms import is_count, is_fact, is_store
 from neverapart.rules import Book, Question, Rule
 
 
@@ -47,6 +57,26 @@ def need_question(value):
     """Lets questions pass."""
     if not isinstance(value, Question):
         raise InvalidQuestion(value)
+
+
+def need_deed(value):
+    """Lets deeds pass."""
+    if not isinstance(value, Deed):
+        raise InvalidDeed(value)
+
+
+def need_deeds(value):
+    """Lets lists of deeds with unlike labels pass."""
+    if not isinstance(value, list) or not all([isinstance(part, Deed) for part in value]):
+        raise InvalidDeed(value)
+    if len({part.label for part in value}) < len(value):
+        raise InvalidDeed(value)
+
+
+def need_count(value, least):
+    """Lets counts pass that are not below a number."""
+    if not is_count(value) or value < least:
+        raise InvalidNumber(value)
 
 
 def need_plain_case(book, store, fact):

@@ -3,7 +3,7 @@
 from heapq import heapify, heappop, heappush
 
 from neverapart.closing import leads_of, rounds_to, what_follows
-from neverapart.forms import bound, filled, is_fact, is_name
+from neverapart.forms import filled, is_fact, is_name, match_at
 from neverapart.needs import need_plain_case
 from neverapart.ways import Ways
 
@@ -192,18 +192,5 @@ def _is_right_line(paper, given, by_label):
     if paper[1] not in by_label or None in facts:
         return False
     rule = by_label[paper[1]]
-    binding = _match_at(rule, facts)
+    binding = match_at(rule.told, rule.pairs, facts)
     return binding is not None and filled(rule.head, binding) == paper[2]
-
-
-def _match_at(rule, facts):
-    """The names for the variables with which the told patterns of a rule are these facts, if there is a match."""
-    if len(rule.told) != len(facts):
-        return None
-    binding = {}
-    for pattern, fact in zip(rule.told, facts):
-        binding = bound(pattern, fact, binding)
-        if binding is None:
-            return None
-    alike = [pair for pair in rule.pairs if binding.get(pair[0], pair[0]) == binding.get(pair[1], pair[1])]
-    return None if alike else binding

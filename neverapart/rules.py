@@ -1,16 +1,7 @@
 """Rules, books of rules, and questions."""
 
 from neverapart.errors import InvalidBook, InvalidQuestion, InvalidRule, UnknownName
-from neverapart.forms import (
-    is_name,
-    is_pairs,
-    is_pattern,
-    is_patterns,
-    is_variable,
-    terms_of,
-    variables_among,
-    variables_of,
-)
+from neverapart.forms import has_more, is_name, is_pairs, is_pattern, is_patterns, is_variable, sides_of, terms_of
 
 
 class Rule:
@@ -27,11 +18,11 @@ class Rule:
             raise InvalidRule(pairs)
         if denied is not None and not is_patterns(denied):
             raise InvalidRule(denied)
-        if _has_more(head[1:], told):
+        if has_more(head[1:], told):
             raise InvalidRule(head)
-        if _has_more(_sides(pairs or []), told):
+        if has_more(sides_of(pairs or []), told):
             raise InvalidRule(pairs)
-        if _has_more(terms_of(denied or []), told):
+        if has_more(terms_of(denied or []), told):
             raise InvalidRule(denied)
         self._label = label
         self._head = head
@@ -126,9 +117,9 @@ class Question:
             raise InvalidQuestion(told)
         if pairs is not None and not is_pairs(pairs):
             raise InvalidQuestion(pairs)
-        if _has_more(columns, told):
+        if has_more(columns, told):
             raise InvalidQuestion(columns)
-        if _has_more(_sides(pairs or []), told):
+        if has_more(sides_of(pairs or []), told):
             raise InvalidQuestion(pairs)
         self._columns = list(columns)
         self._told = list(told)
@@ -153,16 +144,6 @@ class Question:
     def pairs(self):
         """The pairs of terms that have to be unlike."""
         return list(self._pairs)
-
-
-def _sides(pairs):
-    return [term for pair in pairs for term in pair]
-
-
-def _has_more(terms, told):
-    """Whether a variable stands among terms that stands in no told pattern."""
-    known = variables_of(told)
-    return any([term not in known for term in variables_among(terms)])
 
 
 def _has_double(labels):

@@ -4,6 +4,7 @@ import random
 from itertools import combinations, product
 
 from neverapart import errors
+from neverapart.deeds import Deed
 from neverapart.rules import Book, Question, Rule
 
 STEP = Rule("step", ("way", "X", "Y"), [("road", "X", "Y")])
@@ -14,8 +15,12 @@ WAYS = Book([STEP, FAR])
 ROW = [("road", "a", "b"), ("road", "b", "c")]
 TOWN = [("road", "a", "b"), ("road", "b", "c"), ("road", "c", "a"), ("hut", "c")]
 TWO = Question(["X", "Z"], [("road", "X", "Y"), ("road", "Y", "Z"), ("hut", "Z")])
+GO = Deed("go", 0, [("at", "X"), ("road", "X", "Y")], [0], [("at", "Y")])
+TIRE = Deed("tire", 1, [("at", "X"), ("hut", "X")], [0], [("home", "X")])
 
-ODD = [None, True, False, 0, 1, -1, "", "road", "X", [], (), {}, [[]], ((),), {"a": "b"}, {True: 1}, [None], (None,), STEP, WAYS, TWO]
+ODD = [
+    None, True, False, 0, 1, -1, "", "road", "X", [], (), {}, [[]], ((),), {"a": "b"}, {True: 1}, [None], (None,), STEP, WAYS, TWO, GO,
+]
 NO_NAMES = ["", "aaaaaaaaaaa", "A", "aB", "a b", "a1", " a", "a\n", None, True, 0, ("a",), ["a"], {}, STEP]
 NO_FACTS = [
     (), ("",), ("aaaaaaaaaaa",), ("Road", "a"), ("road", "X"), ("road", ""), ("road", "aaaaaaaaaaa"), ("road", "a1"),
@@ -47,8 +52,15 @@ WRONG = {
     "rule": [(errors.InvalidRule, thing) for thing in but(ODD, of(Rule))],
     "book": [(errors.InvalidBook, thing) for thing in but(ODD, of(Book)) + [[STEP]]],
     "question": [(errors.InvalidQuestion, thing) for thing in but(ODD, of(Question))],
+    "deed": [(errors.InvalidDeed, thing) for thing in but(ODD, of(Deed)) + [[GO]]],
+    "deeds": [
+        (errors.InvalidDeed, thing)
+        for thing in but(ODD, empty_list) + [(GO, TIRE), [GO, GO], [GO, Deed("go", 2, [], [], [])], [GO, None], [GO, STEP], {"go": GO}]
+    ],
+    "count": [(errors.InvalidNumber, thing) for thing in but(ODD, lambda thing: type(thing) is int and thing >= 0) + ["1", [1], -300]],
     "text": [(errors.InvalidText, thing) for thing in but(ODD, of(str)) + ["\n", "road(", "a\n", "road(a,b)"]],
 }
+WRONG["count of at least 1"] = WRONG["count"] + [(errors.InvalidNumber, 0)]
 WRONG["plain rule"] = WRONG["rule"] + [(errors.NotPlain, DRY)]
 WRONG["plain book"] = WRONG["book"] + [(errors.NotPlain, Book([STEP, DRY]))]
 
@@ -91,12 +103,21 @@ def put(pattern, names):
     return (pattern[0],) + tuple(names.get(term, term) for term in pattern[1:])
 
 
+def names_in_terms(*lists):
+    """The names that stand in patterns, as terms, or in pairs."""
+    return sorted({t for terms in lists for t in terms if t.islower()})
+
+
 def names_in_rules(rules):
-    terms = [t for r in rules for p in [r.head] + r.told for t in p[1:]] + [t for r in rules for p in r.pairs for t in p]
-    return sorted({t for t in terms if t.islower()})
+    patterns = [p[1:] for r in rules for p in [r.head] + r.told + r.denied]
+    return names_in_terms(*patterns, *[p for r in rules for p in r.pairs])
 
 
-def all_matches(told, pairs, store):
+def names_in_question(question):
+    return names_in_terms(*[p[1:] for p in question.told], *question.pairs)
+
+
+def all_matches(told, pairs, store, denied=()):
     """All matches, as dictionaries: all ways of giving names are gone through."""
     store = set(store)
     terms = variables_in(told)
@@ -104,9 +125,28 @@ def all_matches(told, pairs, store):
     found = []
     for row in product(names, repeat=len(terms)):
         names_of = dict(zip(terms, row))
-        if all(put(p, names_of) in store for p in told) and all(names_of.get(a, a) != names_of.get(b, b) for a, b in pairs):
+        if all(put(p, names_of) in store for p in told) and apart(pairs, names_of) and not any(put(p, names_of) in store for p in denied):
             found.append(names_of)
     return found
+
+
+def apart(pairs, names):
+    return all(names.get(a, a) != names.get(b, b) for a, b in pairs)
+
+
+def all_answers(question, store):
+    found = all_matches(question.told, question.pairs, store)
+    return sorted({tuple(names[column] for column in question.columns) for names in found})
+
+
+def all_ways_to_name(terms, names):
+    """All ways to give variables these names, or as many others as there are variables."""
+    fresh = [f"z{'z' * k}" for k in range(len(terms))]
+    return [dict(zip(terms, row)) for row in product(list(names) + fresh, repeat=len(terms))]
+
+
+def without_one(things):
+    return [things[:at] + things[at + 1:] for at in range(len(things))]
 
 
 def all_steps(rules, store):
@@ -137,14 +177,8 @@ def all_subsets(things):
 
 def all_bodies(rule, names):
     """All ways to give a rule these names, or as many others as it has variables."""
-    terms = variables_in(rule.told)
-    fresh = [f"z{'z' * k}" for k in range(len(terms))]
-    found = []
-    for row in product(list(names) + fresh, repeat=len(terms)):
-        of_terms = dict(zip(terms, row))
-        if all(of_terms.get(a, a) != of_terms.get(b, b) for a, b in rule.pairs):
-            found.append((sorted({put(p, of_terms) for p in rule.told}), put(rule.head, of_terms)))
-    return found
+    ways = [way for way in all_ways_to_name(variables_in(rule.told), names) if apart(rule.pairs, way)]
+    return [(sorted({put(p, way) for p in rule.told}), put(rule.head, way)) for way in ways]
 
 
 def rule_follows(rules, rule):
@@ -189,6 +223,21 @@ class Chance:
         told = self.told(most)
         terms = variables_in(told)
         return Question([t for t in terms if self.draw.random() < 0.5], told, self.some_pairs(told))
+
+    def denying_rule(self, label, most=2):
+        told = self.told(most)
+        terms = variables_in(told) * 3 + self.names[:1]
+        denied = [self.pattern(terms) for _ in range(self.draw.randint(0, 2))]
+        return Rule(label, self.pattern(terms), told, self.some_pairs(told), denied)
+
+    def deed(self, label, most=2):
+        told = self.told(most)
+        terms = variables_in(told) * 3 + self.names[:1]
+        takes = [at for at in range(len(told)) if self.draw.random() < 0.5]
+        self.draw.shuffle(takes)
+        puts = [self.pattern(terms) for _ in range(self.draw.randint(0, 2))]
+        denied = [self.pattern(terms) for _ in range(self.draw.choice([0, 0, 1]))]
+        return Deed(label, self.draw.choice([-1, 0, 0, 2]), told, takes, puts, self.some_pairs(told), denied)
 
     def store(self, many):
         facts = sorted({self.pattern(self.names) for _ in range(many)})

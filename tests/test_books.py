@@ -12,7 +12,7 @@ from neverapart.papers import check_paper
 from neverapart.rules import Book, Rule
 from plainly import (
     DRY, FAR, LONG, ODD, ROW, STEP, WAYS, Chance, all_that_follows, but, empty_list, names_in_rules, put, refused, refuses_wrong,
-    rule_follows, variables_in,
+    rule_follows, variables_in, without_one,
 )
 
 SLOW = Book([STEP, LONG])
@@ -45,10 +45,6 @@ def drawn(many=120):
         rules.append(Rule("more", old.head, old.told + chance.told(1), old.pairs))
         chance.draw.shuffle(rules)
         yield Book(rules), chance.rule("new", 2), chance
-
-
-def without_one(store):
-    return [store[:at] + store[at + 1:] for at in range(len(store))]
 
 
 def parts(one, other, store, fact):

@@ -4,9 +4,14 @@ import unittest
 
 from neverapart.books import alike, bodies, check_parting, follows, lean, needless, parting, reasons, within
 from neverapart.closing import breach, closed, is_closed, rounds
+from neverapart.deeds import Deed
+from neverapart.denial import account, check_account, check_layering, layering, meaning, meaning_by, stands_on
+from neverapart.disturb import disturb
+from neverapart.firing import can_fire, ends, fire, parted, ring, run
 from neverapart.lots import adds, cuts, state, supports
 from neverapart.matching import best_order, matches, matches_with, partials, variables
 from neverapart.papers import check_paper, count_papers, least_height, least_size, smallest, why
+from neverapart.questions import answers, answers_under, core, parting_store, same_answers, same_under
 from neverapart.rules import Book, Question, Rule
 from neverapart.texts import book_text, fact_text, read_book, read_fact, read_rule, renamed, rule_text, store_text
 
@@ -18,6 +23,11 @@ town = [("road", "a", "b"), ("road", "b", "c"), ("road", "c", "a"), ("hut", "c")
 two = Question(["X", "Z"], [("road", "X", "Y"), ("road", "Y", "Z"), ("hut", "Z")])
 row = [("road", "a", "b"), ("road", "b", "c")]
 long = Rule("long", ("way", "X", "Z"), [("road", "X", "Y"), ("way", "Y", "Z")])
+there = Question(["X"], [("road", "X", "Y"), ("road", "X", "Z")])
+lost = Rule("lost", ("lost", "X", "Y"), [("hut", "X"), ("road", "Y", "Z")], None, [("way", "X", "Y")])
+whole = ways + Book([lost])
+go = Deed("go", 0, [("at", "X"), ("road", "X", "Y")], [0], [("at", "Y")])
+tire = Deed("tire", 1, [("at", "X"), ("hut", "X")], [0], [("home", "X")])
 
 
 class Examples(unittest.TestCase):
@@ -86,6 +96,38 @@ class Examples(unittest.TestCase):
              needless(ways + Book([long])), lean(ways + Book([long])) == ways, len(bodies(far, [])),
              bodies(step, ["a"])[0], len(reasons(ways, far))],
             [True, [2], True, 5, (('a', 'a'), [('road', 'a', 'a')], ('way', 'a', 'a')), 5])
+
+    def test_section_9(self):
+        self.assertEqual(
+            [answers(two, town), answers_under(ways, Question(["X"], [("way", "X", "X")]), town),
+             core(there) == Question(["X"], [("road", "X", "Y")])],
+            [[('a', 'c')], [('a',), ('b',), ('c',)], True])
+        self.assertEqual(
+            [same_answers(there, core(there)), parting_store(there, core(there)),
+             same_under(ways, Question([], [("road", "X", "Y"), ("way", "X", "Y")]), Question([], [("road", "X", "Y")]))],
+            [True, None, True])
+
+    def test_section_10(self):
+        self.assertEqual(
+            [layering(whole), [fact for fact in meaning(whole, row + [("hut", "b")]) if fact[0] == "lost"],
+             stands_on(Book([lost]), ways)],
+            [[[('hut', 1), ('road', 2), ('way', 2)], [('lost', 2)]], [('lost', 'b', 'a'), ('lost', 'b', 'b')], True])
+        self.assertEqual(
+            [check_layering(whole, [[("road", 2)], [("way", 2)], [("hut", 1), ("lost", 2)]]),
+             check_account(whole, row, account(whole, row)), check_account(Book([]), [], [])],
+            [True, True, True])
+        self.assertEqual(meaning_by(whole, row, layering(whole)), meaning(whole, row))
+
+    def test_section_11_firing(self):
+        self.assertEqual(
+            [can_fire([go, tire], town + [("at", "a")]), fire([go], town + [("at", "a")], "go", ("a", "b"))[0],
+             run([go, tire], town + [("at", "a")], 9)[0]],
+            [[('go', ('a', 'b'))], ('at', 'b'), [('go', ('a', 'b')), ('go', ('b', 'c')), ('tire', ('c',))]])
+        self.assertEqual(
+            [ends([go, tire], town + [("at", "a")], 9) == [run([go, tire], town + [("at", "a")], 9)[1]],
+             len(ring([go], town + [("at", "a")], 9)[1]), parted([go, tire], town + [("at", "a")], 9)],
+            [True, 3, None])
+        self.assertIs(disturb(go, tire) is None, False)
 
 
 if __name__ == "__main__":

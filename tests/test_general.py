@@ -39,12 +39,28 @@ INTERFACE = {
         **{name: ["one", "other"] for name in ("within", "alike", "parting")}, "check_parting": ["one", "other", "value"],
         **{name: ["book"] for name in ("needless", "lean", "slim")}, "check_reasons": ["book", "rule", "value"],
     },
+    "questions": {
+        "answers": ["question", "store"], "answers_under": ["book", "question", "store"], "same_answers": ["one", "other"],
+        "parting_store": ["one", "other"], "same_under": ["book", "one", "other"], "core": ["question"],
+    },
+    "denial": {
+        "layering": ["book"], "check_layering": ["book", "value"], "meaning": ["book", "store"],
+        "meaning_by": ["book", "store", "layers"], "account": ["book", "store"], "check_account": ["book", "store", "value"],
+        "stands_on": ["top", "book"],
+    },
+    "deeds": {"Deed": ["label", "rank", "told", "takes", "puts", "pairs=None", "denied=None"]},
+    "disturb": {"disturb": ["one", "other"]},
+    "firing": {
+        "can_fire": ["deeds", "store"], "fire": ["deeds", "store", "label", "match"], "run": ["deeds", "store", "many"],
+        **{name: ["deeds", "store", "most"] for name in ("ends", "parted", "ring")},
+    },
 }
 MEMBERS = {
     ("rules", "Rule"): {"label": None, "head": None, "told": None, "pairs": None, "denied": None},
     ("rules", "Book"): {"rules": [], "labels": [], "rule": ["label"], "without": ["label"], "plain": None, "__len__": [],
                         "__add__": ["other"], "__eq__": ["other"]},
     ("rules", "Question"): {"columns": None, "told": None, "pairs": None},
+    ("deeds", "Deed"): {name: None for name in ("label", "rank", "told", "takes", "puts", "pairs", "denied")},
 }
 
 

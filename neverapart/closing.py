@@ -109,3 +109,10 @@ def what_follows(leads, store):
 def leads_to(leads, store, goal):
     """Whether a fact follows from a store."""
     return goal in rounds_to(leads, store, goal)[-1]
+
+
+def came_and_went(before, after):
+    """The tuple of the facts that are there now and were not, and of those that were and are not."""
+    old = {fact: True for fact in before}
+    new = {fact: True for fact in after}
+    return [fact for fact in after if fact not in old], [fact for fact in before if fact not in new]

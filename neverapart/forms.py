@@ -130,6 +130,17 @@ def filled(pattern, binding):
     return pattern[:1] + tuple([binding.get(term, term) for term in pattern[1:]])
 
 
+def lettered(terms):
+    """A dictionary from variables to `A`, `B`, `C` and so on, in their order."""
+    letters = "ABCDEFGHIJKLMNOPQRSTUVWXYZ"
+    return {term: letters[place % 26] * (1 + place // 26) for place, term in enumerate(terms)}
+
+
+def form_of(pattern):
+    """A pattern with `A`, `B`, `C` for its variables, in the order in which they first stand in it."""
+    return filled(pattern, lettered(variables_of([pattern])))
+
+
 def keeps_apart(pairs, binding):
     """Whether the terms of no pair are alike with these names for their variables."""
     return all([binding.get(one, one) != binding.get(other, other) for one, other in pairs])

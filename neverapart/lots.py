@@ -10,14 +10,14 @@ def supports(book, store, fact):
     """All lots from which a fact follows, and does no longer without any of their items."""
     need_plain_case(book, store, fact)
     items = _items(book, store)
-    return _least_lots(items, _table(book, store, items, fact))
+    return _least_lots(items, _tables(book, store, items, [fact])[fact])
 
 
 def cuts(book, store, fact):
     """All lots without which a fact does not follow, though it does if one of their items stays."""
     need_plain_case(book, store, fact)
     items = _items(book, store)
-    return _least_lots(items, _turned(_table(book, store, items, fact), len(items)))
+    return _least_lots(items, _turned(_tables(book, store, items, [fact])[fact], len(items)))
 
 
 def adds(book, store, could, fact):
@@ -27,8 +27,8 @@ def adds(book, store, could, fact):
     need_store(could)
     need_fact(fact)
     items = [("fact", part) for part in sorted(could) if part not in store]
-    table = _table(book, store + [part for _, part in items], items, fact)
-    return [[part for _, part in lot] for lot in _least_lots(items, table)]
+    tables = _tables(book, store + [part for _, part in items], items, [fact])
+    return [[part for _, part in lot] for lot in _least_lots(items, tables[fact])]
 
 
 def state(book, store, fact, taken, put):
@@ -42,6 +42,14 @@ def state(book, store, fact, taken, put):
         return "sure"
     more = store + [part for part in put if part not in store]
     return "possible" if leads_to(leads_of(book.rules()), more, fact) else "never"
+
+
+def facts_in_supports(book, store, goals):
+    """The facts of a store that stand in a support of one of the goals, which are facts that follow."""
+    items = _items(book, store)
+    tables = _tables(book, store, items, goals)
+    lots = [lot for table in sorted({tables[goal] for goal in goals}) for lot in _least_lots(items, table)]
+    return sorted({thing for lot in lots for word, thing in lot if word == "fact"})
 
 
 def _items(book, store):
@@ -61,11 +69,11 @@ def _is_lot(value, items):
 # tells of holds with the items of this choice, and without all others.
 
 
-def _table(book, store, items, fact):
-    """The table of whether a fact follows; what is no item is always there."""
+def _tables(book, store, items, goals):
+    """The tables of whether goals, and what stands behind them, follow; what is no item is always there."""
     always = (1 << (1 << len(items))) - 1
     own = {item: _table_of_item(place, len(items)) for place, item in enumerate(items)}
-    ways = Ways(book.rules(), what_follows(leads_of(book.rules()), store)).behind(fact)
+    ways = Ways(book.rules(), what_follows(leads_of(book.rules()), store)).behind(goals)
     tables = {part: own.get(("fact", part), always) if part in store else 0 for part in ways}
     rules = {label: own.get(("rule", label), always) for label in book.labels()}
     turned = True
@@ -78,7 +86,7 @@ def _table(book, store, items, fact):
             if table != tables[part]:
                 tables[part] = table
                 turned = True
-    return tables[fact]
+    return tables
 
 
 def _table_of_item(place, many):

@@ -5,13 +5,17 @@ from neverapart.errors import (
     InvalidBook,
     InvalidDeed,
     InvalidFact,
+    InvalidGoal,
+    InvalidName,
     InvalidNumber,
     InvalidQuestion,
     InvalidRule,
     InvalidStore,
     NotPlain,
+    TakenName,
+    UnknownName,
 )
-from neverapart.forms import is_count, is_fact, is_store
+from neverapart.forms import is_count, is_fact, is_name, is_pattern, is_store
 from neverapart.rules import Book, Question, Rule
 
 
@@ -77,6 +81,26 @@ def need_count(value, least):
     """Lets counts pass that are not below a number."""
     if not is_count(value) or value < least:
         raise InvalidNumber(value)
+
+
+def need_goal(value):
+    """Lets goals pass."""
+    if not is_pattern(value):
+        raise InvalidGoal(value)
+
+
+def need_new_name(value, taken):
+    """Lets names pass that are not taken."""
+    if not is_name(value):
+        raise InvalidName(value)
+    if value in taken:
+        raise TakenName(value)
+
+
+def need_known_name(value, known):
+    """Lets known names pass."""
+    if not is_name(value) or value not in known:
+        raise UnknownName(value)
 
 
 def need_plain_case(book, store, fact):

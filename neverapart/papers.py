@@ -86,7 +86,7 @@ def is_paper(rules, store, fact, value):
 
 
 def _ways_behind(book, store, fact):
-    return Ways(book.rules(), what_follows(leads_of(book.rules()), store)).behind(fact)
+    return Ways(book.rules(), what_follows(leads_of(book.rules()), store)).behind([fact])
 
 
 def _heights(lists):

@@ -41,10 +41,10 @@ class Ways:
         """All ways to a fact."""
         return [way for back in self.backs for way in back.ways(fact, self.shelf)]
 
-    def behind(self, fact):
-        """A dictionary of all ways to a fact, and to each fact that stands in these ways, and so on."""
+    def behind(self, facts):
+        """A dictionary of all ways to facts, and to each fact that stands in these ways, and so on."""
         found = {}
-        waiting = [fact]
+        waiting = list(facts)
         while waiting:
             here = waiting.pop()
             if here not in found:

@@ -8,12 +8,16 @@ from neverapart.deeds import Deed
 from neverapart.denial import account, check_account, check_layering, layering, meaning, meaning_by, stands_on
 from neverapart.disturb import disturb
 from neverapart.firing import can_fire, ends, fire, parted, ring, run
+from neverapart.goals import asked, calling_store, calls, can_call, form, instances, kinds_called, looks, matters, used
+from neverapart.keeping import Net
+from neverapart.live import Engine, replayed
 from neverapart.lots import adds, cuts, state, supports
 from neverapart.matching import best_order, matches, matches_with, partials, variables
 from neverapart.papers import check_paper, count_papers, least_height, least_size, smallest, why
 from neverapart.questions import answers, answers_under, core, parting_store, same_answers, same_under
 from neverapart.rules import Book, Question, Rule
 from neverapart.texts import book_text, fact_text, read_book, read_fact, read_rule, renamed, rule_text, store_text
+from neverapart.weights import mix, weights
 
 step = Rule("step", ("way", "X", "Y"), [("road", "X", "Y")])
 far = Rule("far", ("way", "X", "Z"), [("way", "X", "Y"), ("way", "Y", "Z")])
@@ -118,7 +122,7 @@ class Examples(unittest.TestCase):
             [True, True, True])
         self.assertEqual(meaning_by(whole, row, layering(whole)), meaning(whole, row))
 
-    def test_section_11_firing(self):
+    def test_section_11(self):
         self.assertEqual(
             [can_fire([go, tire], town + [("at", "a")]), fire([go], town + [("at", "a")], "go", ("a", "b"))[0],
              run([go, tire], town + [("at", "a")], 9)[0]],
@@ -127,7 +131,64 @@ class Examples(unittest.TestCase):
             [ends([go, tire], town + [("at", "a")], 9) == [run([go, tire], town + [("at", "a")], 9)[1]],
              len(ring([go], town + [("at", "a")], 9)[1]), parted([go, tire], town + [("at", "a")], 9)],
             [True, 3, None])
-        self.assertIs(disturb(go, tire) is None, False)
+        self.assertEqual(
+            [disturb(go, tire) is None, weights([go]), weights([tire]) is None, mix([go]) is None, mix([tire])],
+            [False, None, False, False, None])
+
+    def test_section_12(self):
+        engine = Engine(row)
+        first = [
+            engine.put_book("ways", ways)[0], engine.put_view("round", Question(["X"], [("way", "X", "X")])),
+            engine.tell(("road", "c", "a"))[1], engine.seen("round"), engine.turned()]
+        second = [
+            engine.exchange("ways", ways + Book([long])), engine.take_back(("road", "a", "b"))[0], len(engine), engine.seen("round"),
+            engine.undo(), len(engine), engine.log()[0][:2]]
+        self.assertEqual(
+            [first, second],
+            [[[('way', 'a', 'b'), ('way', 'a', 'c'), ('way', 'b', 'c')], None, [], [('a',), ('b',), ('c',)], ['round']],
+             [([], []), [], 5, [], None, 12, ('put', 'ways')]])
+        self.assertEqual(
+            [replayed(row, engine.log()).closed() == engine.closed(), engine.redo(), engine.why(("way", "a", "b")),
+             engine.attempt(lambda same: same.drop_book("ways")[1] == []), ("way", "b", "a") in engine],
+            [True, None, None, False, True])
+
+    def test_section_13(self):
+        net = Net(ways)
+        self.assertEqual(
+            [net.tell(("road", "a", "b")), net.tell(("road", "b", "c"))[0], net.partials("far"), net.matches("far"), net.kept()],
+            [([('road', 'a', 'b'), ('way', 'a', 'b')], []), [('road', 'b', 'c'), ('way', 'a', 'c'), ('way', 'b', 'c')], [3, 1],
+             [('a', 'b', 'c')], 6])
+        self.assertEqual(
+            [net.beginnings()[1], net.needs(("way", "a", "c")), net.leans(("way", "a", "b")), net.leads(("way", "a", "c")),
+             net.would(("road", "b", "c"))[1]],
+            [([('way', 'A', 'B')], []), [('road', 'a', 'b'), ('road', 'b', 'c')], ['step'], [('far', ('a', 'b', 'c'))],
+             [('road', 'b', 'c'), ('way', 'a', 'c'), ('way', 'b', 'c')]])
+        self.assertEqual(
+            [net.take(("road", "a", "b"))[1], net.turned()[0], net.turn([("road", "a", "b")], [("road", "b", "c")]), net.given()],
+            [[('road', 'a', 'b'), ('way', 'a', 'b'), ('way', 'a', 'c')], (([('road', 'A', 'B')], []), [], [('a', 'b')]),
+             ([('road', 'a', 'b'), ('way', 'a', 'b')], [('road', 'b', 'c'), ('way', 'b', 'c')]), [('road', 'a', 'b')]])
+        nest = Net(Book([
+            Rule("one", ("hen",), [("egg",)]), Rule("two", ("egg",), [("hen",)]), Rule("dawn", ("egg",), [("sun",)])]))
+        self.assertEqual(
+            [nest.tell(("sun",)), nest.take(("sun",)), len(nest), ("egg",) in nest],
+            [([('egg',), ('hen',), ('sun',)], []), ([], [('egg',), ('hen',), ('sun',)]), 0, False])
+
+    def test_section_14(self):
+        goal = ("way", "a", "X")
+        self.assertEqual(
+            [asked(ways, goal, row), calls(ways, goal, row), form(("way", "Y", "Y")),
+             instances(("road", "X", "X"), [("road", "a", "b"), ("road", "b", "b")])],
+            [[('way', 'a', 'b'), ('way', 'a', 'c')],
+             [('road', 'a', 'A'), ('road', 'b', 'A'), ('road', 'c', 'A'), ('way', 'a', 'A'), ('way', 'b', 'A'), ('way', 'c', 'A')],
+             ('way', 'A', 'A'), [('road', 'b', 'b')]])
+        self.assertEqual(
+            [looks(ways, goal, town) == sorted(town)[1:], matters(ways, goal, row) == row, used(ways, goal, row) == row,
+             can_call(ways, goal)],
+            [True, True, True, [('road', 'a', 'A'), ('road', 'x', 'A'), ('way', 'a', 'A'), ('way', 'x', 'A')]])
+        self.assertEqual(
+            [kinds_called(ways, goal), len(calling_store(ways, goal, ("road", "x", "A"))) > 0,
+             calling_store(ways, goal, ("road", "A", "B"))],
+            [[('road', 2), ('way', 2)], True, None])
 
 
 if __name__ == "__main__":

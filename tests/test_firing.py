@@ -6,7 +6,7 @@ import unittest
 from neverapart.deeds import Deed
 from neverapart.errors import NotFiring, TooMany
 from neverapart.firing import can_fire, ends, fire, parted, ring, run
-from plainly import GO, ODD, STEP, TIRE, TOWN, Chance, all_matches, put, refuses_wrong, variables_in
+from plainly import GO, ODD, TIRE, TOWN, Chance, all_matches, put, refuses_wrong, variables_in
 
 ROUND = TOWN + [("at", "a")]
 
@@ -235,7 +235,6 @@ class Arguments(unittest.TestCase):
             *ring([GO], store, 9),
         ]
         self.assertEqual([again, deeds, store], [kept, [TIRE, GO], ROUND[::-1]])
-        self.assertEqual(STEP.denied, [])
 
 
 if __name__ == "__main__":

@@ -54,6 +54,14 @@ INTERFACE = {
         "can_fire": ["deeds", "store"], "fire": ["deeds", "store", "label", "match"], "run": ["deeds", "store", "many"],
         **{name: ["deeds", "store", "most"] for name in ("ends", "parted", "ring")},
     },
+    "weights": {"weights": ["deeds"], "mix": ["deeds"]},
+    "live": {"Engine": ["store"], "replayed": ["store", "log"]},
+    "keeping": {"Net": ["book"]},
+    "goals": {
+        "instances": ["goal", "store"], "form": ["goal"], "can_call": ["book", "goal"], "kinds_called": ["book", "goal"],
+        **{name: ["book", "goal", "store"] for name in ("asked", "calls", "looks", "matters", "used")},
+        "calling_store": ["book", "goal", "call"],
+    },
 }
 MEMBERS = {
     ("rules", "Rule"): {"label": None, "head": None, "told": None, "pairs": None, "denied": None},
@@ -61,6 +69,18 @@ MEMBERS = {
                         "__add__": ["other"], "__eq__": ["other"]},
     ("rules", "Question"): {"columns": None, "told": None, "pairs": None},
     ("deeds", "Deed"): {name: None for name in ("label", "rank", "told", "takes", "puts", "pairs", "denied")},
+    ("live", "Engine"): {
+        **{name: [] for name in ("given", "closed", "books", "whole", "views", "turned", "log", "undo", "redo", "trial", "copy")},
+        **{name: ["fact"] for name in ("why", "tell", "take_back", "__contains__")}, "__len__": [],
+        **{name: ["name"] for name in ("book", "drop_book", "drop_view", "question", "seen")},
+        "put_book": ["name", "book"], "exchange": ["name", "book"], "put_view": ["name", "question"], "attempt": ["action"],
+    },
+    ("keeping", "Net"): {
+        **{name: [] for name in ("book", "given", "closed", "beginnings", "kept", "turned", "copy", "__len__")},
+        **{name: ["fact"] for name in ("tell", "take", "leads", "would", "needs", "leans", "__contains__")},
+        **{name: ["label"] for name in ("drop", "matches", "partials")}, "turn": ["told", "taken"], "add": ["rule"],
+        "__eq__": ["other"],
+    },
 }
 
 

@@ -7,7 +7,7 @@ from neverapart.matching import matches
 from neverapart.questions import answers, answers_under, core, parting_store, same_answers, same_under
 from neverapart.rules import Book, Question, Rule
 from plainly import (
-    FAR, ROW, STEP, TOWN, TWO, WAYS, Chance, all_answers, all_subsets, all_that_follows, all_ways_to_name, apart,
+    FAR, ROW, TOWN, TWO, WAYS, Chance, all_answers, all_subsets, all_that_follows, all_ways_to_name, apart,
     names_in_question, names_in_rules, put, refuses_wrong, variables_in, without_one,
 )
 
@@ -200,7 +200,6 @@ class Arguments(unittest.TestCase):
         parting_store(TWO, Question([], [])).append(1)
         self.assertEqual([answers(store=store, question=TWO), store], [[("a", "c")], list(reversed(TOWN))])
         self.assertEqual(parting_store(other=Question([], []), one=TWO), [])
-        self.assertEqual([TWO.columns, len(TWO.told), STEP.pairs], [["X", "Z"], 3, []])
 
 
 if __name__ == "__main__":

@@ -65,8 +65,7 @@ class Link:
         roots = {term: _root(term, binding) for term in terms}
         # The variables that are made one name, and those that have to be alike.
         self.given_names = {term: roots[term] for term in terms if is_name(roots[term])}
-        left = [term for term in terms if term not in self.given_names]
-        self.alike = [(one, other) for one in left for other in left if one < other and roots[one] == roots[other]]
+        self.alike = [(one, other) for one in terms for other in terms if one < other and roots[one] == roots[other]]
 
 
 def _meets(head, call, binding):
@@ -149,9 +148,8 @@ def _called_by_any(rule, call, names, pool):
 
 def _is_beginning(rule, link, binding):
     """Whether names that some variables have make no pair alike, and leave a common instance with the call."""
-    known = [pair for pair in rule.pairs if all([term in binding for term in pair if is_variable(term)])]
     both = [(one, other) for one, other in link.alike if one in binding and other in binding]
-    return keeps_apart(known, binding) and all([binding[one] == binding[other] for one, other in both])
+    return keeps_apart(rule.pairs, binding) and all([binding[one] == binding[other] for one, other in both])
 
 
 def _exchange(call, pool):

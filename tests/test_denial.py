@@ -272,6 +272,11 @@ class Accounts(unittest.TestCase):
                 self.assertIs(check_account(book, store, copy.deepcopy(lines)), True)
                 self.assertEqual(account(book, store[::-1]), lines)
 
+    def test_a_way_that_is_denied_is_none(self):
+        book = Book([Rule("no", ("goal",), [("p",)], None, [("q",)]), Rule("yes", ("goal",), [("p",)])])
+        self.assertEqual([label for label, _, _ in account(book, [("p",), ("q",)])], [None, None, "yes"])
+        self.assertTrue(check_account(book, [("p",)], account(book, [("p",)])))
+
     def test_check_account_of_bent_lines(self):
         right = wrong = 0
         for book, store, chance in drawn():

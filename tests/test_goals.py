@@ -90,13 +90,13 @@ def told_as(call, rules, goal):
     return call[:1] + tuple(dict(zip(foreign, fresh)).get(term, term) for term in call[1:])
 
 
-def drawn(many=120, kinds=(("p", 1), ("q", 2), ("s", 0), ("p", 2), ("r", 3)), names="abc", goal_names="ab"):
+def drawn(many=120, kinds=(("p", 1), ("q", 2), ("s", 0), ("p", 2), ("r", 3)), names="abc", goal_names="ab", told=2):
     """Rules, a goal and a store; some heads and goals have a variable twice."""
     for seed in range(many):
         chance = Chance(seed, names=names, kinds=kinds, letters="XYZ" if seed % 2 else "XY")
         store = chance.store(6)
         chance.names = list(goal_names) if seed % 3 else list(goal_names[:1])
-        book = chance.book(chance.draw.randint(1, 3), 2)
+        book = chance.book(chance.draw.randint(1, 3), told)
         goal = chance.pattern(["U", "U", "V", "W", *goal_names])
         if chance.draw.random() < 0.7 and len(book):
             goal = put(chance.draw.choice(book.rules()).head, {term: chance.draw.choice(["A", "B", "a", "X"]) for term in "XYZ"})
@@ -222,8 +222,9 @@ class Tables(unittest.TestCase):
 class OnSomeStore(unittest.TestCase):
     def small(self, many=70):
         """At most two names in the book and the goal, and at most three variables in a rule."""
-        for book, goal, store, chance in drawn(many, (("p", 1), ("q", 2), ("s", 0), ("p", 2)), "abcd"):
-            yield book, goal, store, chance
+        for told in (2, 3):
+            for book, goal, store, chance in drawn(many, (("p", 1), ("q", 2), ("s", 0), ("p", 2)), "abcd", told=told):
+                yield book, goal, store, chance
 
     def test_can_call_is_held_against_many_stores(self):
         longest = 0
@@ -276,6 +277,17 @@ class OnSomeStore(unittest.TestCase):
             [("q", "x", "x", "x"), ("q", "x", "x", "xx"), ("q", "x", "xx", "x"), ("q", "x", "xx", "xx"), ("q", "x", "xx", "xxx")]))
         self.assertEqual(can_call(Book([]), ("p", "X", "b")), [("p", "A", "b")])
         self.assertEqual([kinds_called(wide, ("goal",)), kinds_called(Book([]), ("p", "X", "b"))], [[("goal", 0), ("p", 3), ("q", 3)], [("p", 2)]])
+
+    def test_variables_that_have_to_be_alike(self):
+        book = Book([Rule("r", ("way", "X", "Y"), [("p", "X"), ("q", "Y"), ("u", "X", "Y"), ("v", "Y", "Z")])])
+        first = [("p", "A"), ("q", "A")]
+        self.assertEqual(can_call(book, ("way", "U", "U")), first + [("u", "x", "x"), ("v", "x", "A"), ("way", "A", "A")])
+        self.assertEqual(can_call(book, ("way", "U", "V")), first + [("u", "x", "x"), ("u", "x", "xx"), ("v", "x", "A"), ("way", "A", "B")])
+        self.assertEqual(calling_store(book, ("way", "U", "U"), ("v", "x", "A")), [("p", "x"), ("q", "x"), ("u", "x", "x")])
+        self.assertEqual(calling_store(book, ("way", "U", "V"), ("u", "x", "xx")), [("p", "x"), ("q", "xx")])
+        apart_ends = Book([Rule("r", ("way", "X", "Y"), [("p", "X"), ("q", "Y"), ("u", "X", "Y")], [("Y", "X")])])
+        self.assertEqual(can_call(apart_ends, ("way", "U", "U")), first + [("way", "A", "A")])
+        self.assertEqual(can_call(apart_ends, ("way", "U", "V")), first + [("u", "x", "xx"), ("way", "A", "B")])
 
     def test_calls_that_the_goal_has_on_no_store(self):
         for call in (("road", "A", "B"), ("road", "c", "A"), ("road", "xx", "A"), ("road", "x", "B"), ("hut", "A"), ("way", "X", "A"), ("road", "x"), ("road",)):

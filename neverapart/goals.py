@@ -11,7 +11,7 @@ def instances(goal, store):
     """The facts of a store that are instances of a goal."""
     need_goal(goal)
     need_store(store)
-    return _instances(goal, store)
+    return instances_in(goal, store)
 
 
 def asked(book, goal, store):
@@ -78,9 +78,9 @@ def _need_case(book, goal, store):
     need_store(store)
 
 
-def _instances(goal, facts):
+def instances_in(goal, facts):
     return sorted([fact for fact in facts if bound(goal, fact, {}) is not None])
 
 
 def _asked(book, goal, store):
-    return _instances(goal, what_follows(leads_of(book.rules()), store))
+    return instances_in(goal, what_follows(leads_of(book.rules()), store))

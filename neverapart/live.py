@@ -1,32 +1,25 @@
 """An engine, whose facts and books come and go: what follows, views on it, undo and redo, trials, and a log."""
 
+from neverapart.changes import changed, holding_of, need_log, rules_in
 from neverapart.closing import came_and_went, leads_of, what_follows
-from neverapart.errors import InvalidLog, NothingToRedo, NothingToUndo, TakenName, UnknownName
+from neverapart.errors import NothingToRedo, NothingToUndo, Unsound
 from neverapart.forms import is_fact
 from neverapart.joins import by_kind
-from neverapart.needs import (
-    need_fact,
-    need_known_name,
-    need_new_name,
-    need_plain_book,
-    need_question,
-    need_store,
-)
+from neverapart.needs import need_fact, need_known_name, need_store
 from neverapart.papers import lowest_paper
 from neverapart.questions import answers_on
 from neverapart.rules import Book
+from neverapart.watching import breaks_on
 
-# How many things stand behind the word of a change.
-CHANGES = {"tell": 1, "take": 1, "put": 2, "drop": 1, "exchange": 2, "view": 2, "unview": 1}
+# The words of changes that may turn what follows; what the methods of the others return is None.
+TURNING = ("tell", "take", "put", "drop", "exchange")
 
 
 class Standing:
-    """What an engine has at a moment, and what comes of it; it never changes."""
+    """What an engine holds at a moment, and what comes of it: what follows, and what views see; it never changes."""
 
-    def __init__(self, held, library, watched, known, answered):
-        self.held = held
-        self.library = library
-        self.watched = watched
+    def __init__(self, holding, known, answered):
+        self.holding = holding
         self.known = known
         self.answered = answered
 
@@ -62,7 +55,7 @@ class Engine:
 
     def __init__(self, store):
         need_store(store)
-        self._course = Course(_standing(store, {}, {}), [], [], [])
+        self._course = begun(store, [])
 
     def __len__(self):
         return len(self._course.now.known)
@@ -72,7 +65,7 @@ class Engine:
 
     def given(self):
         """The given facts."""
-        return list(self._course.now.held)
+        return list(self._has().held)
 
     def closed(self):
         """What follows from the given facts by all rules."""
@@ -81,89 +74,62 @@ class Engine:
     def why(self, fact):
         """Any paper of the least height of a fact, or None."""
         need_fact(fact)
-        rules = _rules_in(self._course.now.library)
-        return lowest_paper(rules, leads_of(rules), self._course.now.held, fact)
+        rules = rules_in(self._has().library)
+        return lowest_paper(rules, leads_of(rules), self._has().held, fact)
 
     def books(self):
         """The names of the books."""
-        return sorted(self._course.now.library)
+        return sorted(self._has().library)
 
     def book(self, name):
         """The book with a name."""
-        need_known_name(name, self._course.now.library)
-        return self._course.now.library[name]
+        need_known_name(name, self._has().library)
+        return self._has().library[name]
 
     def whole(self):
         """The book of all rules, book by book in the order of their names."""
-        return Book(_rules_in(self._course.now.library))
+        return Book(rules_in(self._has().library))
 
     def tell(self, fact):
         """Makes a fact given; returns which facts come and go, as all methods up to `exchange` do."""
-        need_fact(fact)
-        now = self._course.now
-        if fact in now.held:
-            raise TakenName(fact)
-        return self._turn(("tell", fact), _standing(now.held + [fact], now.library, now.watched))
+        return self._make(("tell", fact))
 
     def take_back(self, fact):
         """Makes a fact no longer given."""
-        need_fact(fact)
-        now = self._course.now
-        if fact not in now.held:
-            raise UnknownName(fact)
-        left = [other for other in now.held if other != fact]
-        return self._turn(("take", fact), _standing(left, now.library, now.watched))
+        return self._make(("take", fact))
 
     def put_book(self, name, book):
         """Puts a book in under a name."""
-        now = self._course.now
-        need_new_name(name, now.library)
-        need_plain_book(book)
-        _need_new_labels(book, now.library)
-        return self._turn(("put", name, book), _standing(now.held, _with(now.library, name, book), now.watched))
+        return self._make(("put", name, book))
 
     def drop_book(self, name):
         """Takes a book out."""
-        now = self._course.now
-        need_known_name(name, now.library)
-        return self._turn(("drop", name), _standing(now.held, _without(now.library, name), now.watched))
+        return self._make(("drop", name))
 
     def exchange(self, name, book):
         """Puts a book in the place of another one."""
-        now = self._course.now
-        need_known_name(name, now.library)
-        need_plain_book(book)
-        _need_new_labels(book, _without(now.library, name))
-        return self._turn(("exchange", name, book), _standing(now.held, _with(now.library, name, book), now.watched))
+        return self._make(("exchange", name, book))
 
     def put_view(self, name, question):
         """Keeps a question as a view under a name."""
-        now = self._course.now
-        need_new_name(name, now.watched)
-        need_question(question)
-        answered = _with(now.answered, name, answers_on(question, by_kind(now.known)))
-        watched = _with(now.watched, name, question)
-        self._look(("view", name, question), Standing(now.held, now.library, watched, now.known, answered))
+        return self._make(("view", name, question))
 
     def drop_view(self, name):
         """Takes a view out."""
-        now = self._course.now
-        need_known_name(name, now.watched)
-        watched, answered = _without(now.watched, name), _without(now.answered, name)
-        self._look(("unview", name), Standing(now.held, now.library, watched, now.known, answered))
+        return self._make(("unview", name))
 
     def views(self):
         """The names of the views."""
-        return sorted(self._course.now.watched)
+        return sorted(self._has().watched)
 
     def question(self, name):
         """The question of a view."""
-        need_known_name(name, self._course.now.watched)
-        return self._course.now.watched[name]
+        need_known_name(name, self._has().watched)
+        return self._has().watched[name]
 
     def seen(self, name):
         """The answers to the question of a view in what follows now."""
-        need_known_name(name, self._course.now.watched)
+        need_known_name(name, self._has().watched)
         return list(self._course.now.answered[name])
 
     def turned(self):
@@ -207,85 +173,64 @@ class Engine:
         other._course = self._course
         return other
 
-    def _turn(self, change, then):
-        """Makes a change that may turn what follows; the tuple of the facts that come and of those that go."""
-        course = self._course
-        self._course = Course(then, course.done + [(change, course.now)], [], _altered(course.now, then))
-        return came_and_went(course.now.known, then.known)
+    def _has(self):
+        return self._course.now.holding
 
-    def _look(self, change, then):
-        """Makes a change of the views alone; one that is put in, again too, does not count as turned."""
+    def _make(self, change):
+        """Makes a change, and returns what the method that is called for it returns."""
         course = self._course
-        left = [name for name in course.altered if name in then.watched]
-        self._course = Course(then, course.done + [(change, course.now)], [], left)
+        then = _standing_behind(course.now, change)
+        done = course.done + [(change, course.now)]
+        if change[0] in TURNING:
+            self._course = Course(then, done, [], _altered(course.now, then))
+            return came_and_went(course.now.known, then.known)
+        # A view that is put in, again too, does not count as turned.
+        left = [name for name in course.altered if name in then.holding.watched]
+        self._course = Course(then, done, [], left)
+        return None
 
 
 def replayed(store, log):
     """An engine made of a store in which the changes of a log are made."""
     engine = Engine(store)
-    if not isinstance(log, list) or not all([is_change(part) for part in log]):
-        raise InvalidLog(log)
+    need_log(log)
     for change in log:
         make_change(engine, change)
     return engine
 
 
-def is_change(value):
-    """Whether any object is a tuple of the word of a change with as many things behind it as it takes."""
-    if not isinstance(value, tuple) or len(value) == 0 or not isinstance(value[0], str):
-        return False
-    return value[0] in CHANGES and len(value) == 1 + CHANGES[value[0]]
-
-
 def make_change(engine, change):
     """Makes a change in an engine, and returns what its method returns."""
-    word = change[0]
-    if word == "tell":
-        return engine.tell(change[1])
-    if word == "take":
-        return engine.take_back(change[1])
-    if word == "put":
-        return engine.put_book(change[1], change[2])
-    if word == "drop":
-        return engine.drop_book(change[1])
-    if word == "exchange":
-        return engine.exchange(change[1], change[2])
-    if word == "view":
-        return engine.put_view(change[1], change[2])
-    return engine.drop_view(change[1])
+    return engine._make(change)
 
 
-def _standing(held, library, watched):
-    known = what_follows(leads_of(_rules_in(library)), held)
+def begun(store, guards):
+    """The course of an engine of a store, with guards, to which nothing was done yet."""
+    holding = holding_of(store, guards)
+    _need_sound(holding, holding.held)
+    return Course(Standing(holding, holding.held, {}), [], [], [])
+
+
+def _standing_behind(now, change):
+    """What stands behind a change."""
+    holding = changed(now.holding, change)
+    known = now.known
+    if change[0] in TURNING:
+        known = what_follows(leads_of(rules_in(holding.library)), holding.held)
+    _need_sound(holding, known)
     shelf = by_kind(known)
-    answered = {name: answers_on(watched[name], shelf) for name in watched}
-    return Standing(sorted(held), library, watched, known, answered)
+    watched = holding.watched
+    return Standing(holding, known, {name: answers_on(watched[name], shelf) for name in watched})
 
 
-def _rules_in(library):
-    """The rules of all books, book by book in the order of their names."""
-    return [rule for name in sorted(library) for rule in library[name].rules()]
-
-
-def _need_new_labels(book, library):
-    """Lets books pass that have no label of a rule of these others."""
-    taken = [rule.label for rule in _rules_in(library)]
-    for label in book.labels():
-        if label in taken:
-            raise TakenName(label)
-
-
-def _with(things, name, thing):
-    found = {other: things[other] for other in things}
-    found[name] = thing
-    return found
-
-
-def _without(things, name):
-    return {other: things[other] for other in things if other != name}
+def _need_sound(holding, known):
+    """Lets pass what its guards let be sound, where this follows."""
+    found = breaks_on(holding.posted, by_kind(known))
+    if found:
+        raise Unsound(found)
 
 
 def _altered(before, after):
     """The names of the views that there are before and after, with unlike answers."""
-    both = [name for name in sorted(after.watched) if name in before.watched]
+    both = [name for name in sorted(after.holding.watched) if name in before.holding.watched]
     return [name for name in both if before.answered[name] != after.answered[name]]

@@ -1,6 +1,6 @@
 """Texts of facts, rules, books and stores, reading them back, and other names."""
 
-from neverapart.errors import InvalidBook, InvalidFact, InvalidNames, InvalidRule, InvalidText
+from neverapart.errors import InvalidBook, InvalidFact, InvalidNames, InvalidQuestion, InvalidRule, InvalidText
 from neverapart.forms import filled, is_fact, is_name, is_store
 from neverapart.needs import need_book, need_fact, need_rule, need_store
 from neverapart.rules import Book, Question, Rule
@@ -95,6 +95,21 @@ def pattern_in(text):
     if bracket == "":
         return (word,)
     return (word, *terms[:-1].split(", "))
+
+
+def question_text(question):
+    """The text of a question: its columns and conditions."""
+    return "(" + ", ".join(question.columns) + ")" + conditions_text(question.told, question.pairs, [])
+
+
+def question_in(text):
+    """The only question that could have a text, or None; who asks makes sure that it has it."""
+    columns, word, tail = text.partition(" if ")
+    told, pairs, _ = conditions_in(tail) if word else ([], [], [])
+    try:
+        return Question(columns[1:-1].split(", ") if columns != "()" else [], told, pairs)
+    except InvalidQuestion:
+        return None
 
 
 def conditions_text(told, pairs, denied):

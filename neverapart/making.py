@@ -19,7 +19,7 @@ from neverapart.questions import answers_on
 
 
 class Maker:
-    """A maker puts facts of its heads in for facts of its told pattern, with new things for variables of heads alone."""
+    """A maker puts facts of heads in for each fact of a told pattern, with new things for variables of heads alone."""
 
     def __init__(self, label, heads, told):
         if not is_name(label):

@@ -5,6 +5,9 @@ from itertools import combinations, product
 
 from neverapart import errors
 from neverapart.deeds import Deed
+from neverapart.guards import Guard
+from neverapart.live import Engine
+from neverapart.making import Maker
 from neverapart.rules import Book, Question, Rule
 
 STEP = Rule("step", ("way", "X", "Y"), [("road", "X", "Y")])
@@ -17,9 +20,14 @@ TOWN = [("road", "a", "b"), ("road", "b", "c"), ("road", "c", "a"), ("hut", "c")
 TWO = Question(["X", "Z"], [("road", "X", "Y"), ("road", "Y", "Z"), ("hut", "Z")])
 GO = Deed("go", 0, [("at", "X"), ("road", "X", "Y")], [0], [("at", "Y")])
 TIRE = Deed("tire", 1, [("at", "X"), ("hut", "X")], [0], [("home", "X")])
+BACK = Guard("back", [("way", "X", "X")])
+TWIN = Guard("twin", [("hut", "X"), ("hut", "Y")], [("X", "Y")])
+OWN = Maker("own", [("owns", "X", "Y"), ("hut", "Y")], ("man", "X"))
+ROUND = Question(["X"], [("way", "X", "X")])
 
 ODD = [
     None, True, False, 0, 1, -1, "", "road", "X", [], (), {}, [[]], ((),), {"a": "b"}, {True: 1}, [None], (None,), STEP, WAYS, TWO, GO,
+    BACK, OWN, Engine([]),
 ]
 NO_NAMES = ["", "aaaaaaaaaaa", "A", "aB", "a b", "a1", " a", "a\n", None, True, 0, ("a",), ["a"], {}, STEP]
 NO_FACTS = [
@@ -29,6 +37,21 @@ NO_FACTS = [
 ]
 NO_STORES = [
     [()], ROW + ROW[:1], tuple(ROW), [("road", "X", "b")], [["road", "a", "b"]], ROW + [None], ROW[0], [STEP], {ROW[0]: True},
+]
+
+
+NO_CHANGES = [
+    None, (), [], "tell", ("tell",), ("tell", ROW[0], ROW[0]), ["tell", ROW[0]], ("told", ROW[0]), ("put", "w"), ("put", "w", WAYS, WAYS),
+    ("drop",), ("drop", "w", WAYS), ("exchange", "w"), ("view", "v"), ("unview",), ("unview", "v", ROUND), ("undo",), (["tell"], ROW[0]),
+    (None, ROW[0]), ({}, ROW[0]), (True, ROW[0]), ("Tell", ROW[0]), (("tell",), ROW[0]), ("ask", ROW[0]), (),
+]
+GUARDINGS = [("guard", BACK), ("unguard", "back")]
+NO_COMMANDS = [thing for thing in NO_CHANGES if thing != ("ask", ROW[0]) and thing != ("undo",)] + GUARDINGS + [
+    ("tell", ("way", "X")), ("take", ["way"]), ("tell", None), ("put", "W", WAYS), ("put", "w", [STEP]), ("put", "w", None), ("put", "w", TWO),
+    ("drop", ""), ("drop", ("w",)), ("exchange", "w", STEP), ("exchange", WAYS, "w"), ("view", "v", WAYS), ("view", "", TWO), ("unview", "V"),
+    ("undo", None), ("redo", "a"), ("undo", ()), ("ask",), ("ask", "way"), ("ask", ()), ("ask", ["way", "X"]), ("ask", ("way", "X", 1)),
+    ("why", ("way", "X")), ("why",), ("seen", "V"), ("seen", None), ("seen", "v", "v"), ("try",), ("try", None), ("try", ()), ("try", [[]]),
+    ("try", [("try", [("undo", 1)])]), ("try", [], []), ("try", ("undo",)), ["undo"], "undo", ("UNDO",), (True,), (("undo",),),
 ]
 
 
@@ -60,6 +83,32 @@ WRONG = {
     "count": [(errors.InvalidNumber, thing) for thing in but(ODD, lambda thing: type(thing) is int and thing >= 0) + ["1", [1], -300]],
     "text": [(errors.InvalidText, thing) for thing in but(ODD, of(str)) + ["\n", "road(", "a\n", "road(a,b)"]],
 }
+WRONG["log"] = [
+    (errors.InvalidLog, thing)
+    for thing in but(ODD, empty_list) + [(("tell", ROW[0]),), {"tell": ROW[0]}] + [[("tell", ROW[0]), one] for one in NO_CHANGES + GUARDINGS]
+]
+WRONG["script"] = [
+    (errors.InvalidScript, thing)
+    for thing in but(ODD, empty_list) + [(("undo",),), {("undo",): 1}] + [[("undo",), one] for one in NO_COMMANDS]
+]
+WRONG["guards"] = [
+    (errors.InvalidGuard, thing)
+    for thing in but(ODD, empty_list) + [(BACK,), [BACK, BACK], [TWIN, Guard("twin", [])], [BACK, None], [STEP], {"back": BACK}]
+]
+WRONG["guard"] = [(errors.InvalidGuard, thing) for thing in but(ODD, of(Guard)) + [[BACK]]]
+WRONG["makers"] = [
+    (errors.InvalidBook, thing)
+    for thing in but(ODD, empty_list) + [(OWN,), [OWN, OWN], [OWN, Maker("own", [("p",)], ("q",))], [OWN, None], [STEP], {"own": OWN}]
+]
+WRONG["maker"] = [(errors.InvalidRule, thing) for thing in but(ODD, of(Maker)) + [[OWN], Rule("own", ("p",), [])]]
+WRONG["edition"] = [
+    (errors.InvalidEdition, thing) for thing in ODD + [
+        ([], {}), ([], {}, {}, {}), [[], {}, {}], (ROW[::-1], {}, {}), (ROW + ROW[-1:], {}, {}), (tuple(ROW), {}, {}), ([("way", "X")], {}, {}),
+        (None, {}, {}), ([], [], {}), ([], {"W": WAYS}, {}), ([], {1: WAYS}, {}), ([], {"w": [STEP]}, {}), ([], {"w": STEP}, {}),
+        ([], {"w": Book([STEP, DRY])}, {}), ([], {"v": Book([STEP]), "w": WAYS}, {}), ([], {"w": None}, {}), ([], {}, []), ([], {}, {"V": TWO}),
+        ([], {}, {"v": WAYS}), ([], {}, {"v": None}), ([], {}, {"": TWO}), ([], {}, None), ([], {("w",): WAYS}, {}), ([], {}, {True: TWO}),
+    ]
+]
 WRONG["count of at least 1"] = WRONG["count"] + [(errors.InvalidNumber, 0)]
 WRONG["plain rule"] = WRONG["rule"] + [(errors.NotPlain, DRY)]
 WRONG["plain book"] = WRONG["book"] + [(errors.NotPlain, Book([STEP, DRY]))]
@@ -186,6 +235,18 @@ def rule_follows(rules, rule):
     return all(fact in all_that_follows(rules, store) for store, fact in all_bodies(rule, names))
 
 
+def all_breaks(rules, guards, store):
+    """The tuples of the label and the match, as a tuple of names, of all matches of guards in what follows."""
+    follows = all_that_follows(rules, store)
+    return sorted((g.label, tuple(names.values())) for g in guards for names in all_matches(g.told, g.pairs, follows))
+
+
+def all_repairs(rules, guards, store):
+    """All least lists of facts without which a store is sound."""
+    out = [set(some) for some in all_subsets(sorted(store)) if not all_breaks(rules, guards, [f for f in store if f not in some])]
+    return sorted(sorted(some) for some in out if not any(less < some for less in out))
+
+
 class Chance:
     """Rules, books and stores drawn by a number, the same each time."""
 
@@ -238,6 +299,13 @@ class Chance:
         puts = [self.pattern(terms) for _ in range(self.draw.randint(0, 2))]
         denied = [self.pattern(terms) for _ in range(self.draw.choice([0, 0, 1]))]
         return Deed(label, self.draw.choice([-1, 0, 0, 2]), told, takes, puts, self.some_pairs(told), denied)
+
+    def guard(self, label, most=2):
+        told = self.told(most)
+        return Guard(label, told, self.some_pairs(told))
+
+    def guards(self, many, most=2):
+        return [self.guard(label, most) for label in ["ha", "hb", "hc", "hd"][:many]]
 
     def store(self, many):
         facts = sorted({self.pattern(self.names) for _ in range(many)})

@@ -62,6 +62,27 @@ INTERFACE = {
         **{name: ["book", "goal", "store"] for name in ("asked", "calls", "looks", "matters", "used")},
         "calling_store": ["book", "goal", "call"],
     },
+    "scripts": {
+        "play": ["engine", "script"], "script_text": ["script"], "read_script": ["text"], "said_text": ["said"],
+        "same_end": ["one", "other"], "parting_start": ["one", "other"], "trimmed": ["script"],
+    },
+    "branches": {
+        "edition": ["engine"], "engine_of": ["edition"], "behind": ["edition", "log"], "unlike_spots": ["one", "other"],
+        "steps": ["one", "other"], "conflicts": ["base", "one", "other"], "meeting": ["base", "one", "other"],
+        "weaves": ["edition", "one", "other"], "left_out": ["edition", "log", "position"], "Tree": ["store"],
+    },
+    "making": {
+        "Maker": ["label", "heads", "told"], "grown": ["makers", "store", "most"], "things": ["makers", "store", "most"],
+        "ranks": ["makers"], "check_ranks": ["makers", "value"], "endless": ["makers"], "check_endless": ["makers", "value"],
+        "sure_answers": ["makers", "question", "store", "most"], "maker_follows": ["makers", "maker", "most"],
+        "needless_makers": ["makers", "most"],
+    },
+    "guards": {
+        "Guard": ["label", "told", "pairs=None"],
+        **{name: ["book", "guards", "store"] for name in ("sound", "breaks", "blames", "repairs", "fewest")},
+        **{name: ["book", "guards", "store", "question"] for name in ("surely", "perhaps")},
+        **{name: ["book", "guards", "store", "could"] for name in ("tellable", "fullest")},
+    },
 }
 MEMBERS = {
     ("rules", "Rule"): {"label": None, "head": None, "told": None, "pairs": None, "denied": None},
@@ -81,6 +102,12 @@ MEMBERS = {
         **{name: ["label"] for name in ("drop", "matches", "partials")}, "turn": ["told", "taken"], "add": ["rule"],
         "__eq__": ["other"],
     },
+    ("branches", "Tree"): {
+        "branches": [], "log": ["branch"], "edition": ["branch"], "change": ["branch", "change"], "fork": ["branch", "moment", "name"],
+        "base": ["one", "other"], "join": ["one", "other"],
+    },
+    ("making", "Maker"): {name: None for name in ("label", "heads", "told")},
+    ("guards", "Guard"): {name: None for name in ("label", "told", "pairs")},
 }
 
 

@@ -8,7 +8,7 @@ import unittest
 
 FOLDER = pathlib.Path(__file__).resolve().parent.parent / "neverapart"
 BUILTINS = """len range enumerate zip min max sum abs sorted reversed int str bool list tuple dict set isinstance ord repr any all
-    divmod getattr hasattr setattr map iter next ValueError TypeError KeyError IndexError""".split()
+    divmod getattr hasattr setattr map iter next type ValueError TypeError KeyError IndexError""".split()
 METHODS = """append clear copy count endswith extend find get index insert isalnum isalpha isdigit islower isspace isupper items
     join keys ljust lower lstrip partition pop remove replace reverse rfind rjust rpartition rsplit rstrip setdefault split
     splitlines startswith strip update upper values zfill bit_length""".split()
@@ -17,6 +17,8 @@ LIBRARY = {"heapq": ["heappush", "heappop", "heapify"], "math": ["gcd", "lcm", "
 DUNDERS = ["__init__", "__eq__", "__len__", "__add__", "__contains__", "__enter__", "__exit__"]
 NEVER = (ast.GeneratorExp, ast.Import, ast.Global, ast.AsyncFunctionDef, ast.Await, ast.Div, ast.AnnAssign, ast.Yield,
          ast.YieldFrom, ast.NamedExpr)
+# Names of functions that the document gives to parameters of other functions of the same file, too.
+SHARED = {"branches.py": ["edition"]}
 BARRED = """register mro elements open input law version_info attrgetter breakpoint compile copyright credits delattr dir eval
     exec exit gc globals help id importlib license locals methodcaller os quit super type vars sys""".split()
 
@@ -101,7 +103,8 @@ class Language(unittest.TestCase):
             self.assertEqual(len(set(imports + classes + functions)), len(imports + classes + functions), name)
             for one in bound:
                 self.assertFalse(one in imports or one in BARRED or hasattr(builtins, one), (name, one))
-                self.assertTrue(bound.count(one) == 1 or one not in classes + functions, (name, one))
+                alone = bound.count(one) == 1 or one not in classes + functions
+                self.assertTrue(alone or one in SHARED.get(name, []), (name, one))
             for node in ast.walk(tree):
                 if isinstance(node, ast.Name) and isinstance(node.ctx, ast.Load):
                     self.assertNotEqual(node.id, "_", name)
@@ -136,6 +139,23 @@ class Language(unittest.TestCase):
                 if isinstance(node, (ast.SetComp, ast.Set)) or called(node) in ("set", "frozenset"):
                     around = above[node]
                     self.assertTrue(called(around) in ("sorted", "len") and not around.keywords, (name, node.lineno))
+
+    def test_classes_are_asked_for_by_name_alone(self):
+        for name, _, tree in trees():
+            above = parents(tree)
+            for node in ast.walk(tree):
+                if isinstance(node, ast.Name) and node.id == "type":
+                    call = above[node]
+                    self.assertTrue(called(call) == "type" and isinstance(call.args[0], ast.Name), (name, node.lineno))
+                    self.assertEqual(getattr(above[call], "attr", None), "__name__", (name, node.lineno))
+
+    def test_tables_at_module_level_are_only_read(self):
+        for name, _, tree in trees():
+            above = parents(tree)
+            tables = [one.targets[0].id for one in tree.body if isinstance(one, ast.Assign) and isinstance(one.value, (ast.Dict, ast.List))]
+            for node in ast.walk(tree):
+                if isinstance(node, ast.Name) and node.id in tables and isinstance(node.ctx, ast.Load):
+                    self.assertIsInstance(above[node], (ast.Compare, ast.Subscript), (name, node.lineno))
 
     def test_strings(self):
         for name, _, tree in trees():

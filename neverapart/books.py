@@ -1,6 +1,7 @@
 """Whether books lead to the same on all stores, what parts them, and what can be left out of them."""
 
 from neverapart.closing import leads_of, leads_to
+from neverapart.deciding import deciding_bindings
 from neverapart.errors import InvalidNames, InvalidRule
 from neverapart.forms import filled, is_different_names, is_fact, is_store, keeps_apart, variables_of
 from neverapart.givings import fresh_names, givings
@@ -8,6 +9,7 @@ from neverapart.joins import names_of_rules
 from neverapart.needs import need_plain_book, need_plain_rule
 from neverapart.papers import is_paper, lowest_paper
 from neverapart.rules import Book, Rule
+from neverapart.watching import is_sound
 
 
 def bodies(rule, names):
@@ -129,27 +131,18 @@ def _body(rule, binding):
     return tuple(binding.values()), store, filled(rule.head, binding)
 
 
-def _missing_body(rules, rule):
-    """A body of a rule whose fact does not follow by other rules; None if the rule follows from them."""
-    names = names_of_rules(rules + [rule])
+def missing_body(rules, guards, rule):
+    """A body of a rule that is sound by rules and guards, and whose fact does not follow; None if there is none."""
     leads = leads_of(rules)
-    for body in _deciding_bodies(rules, rule, names):
-        if not leads_to(leads, body[1], body[2]):
+    for binding in deciding_bindings(rule, names_of_rules([rule]), rules, guards, []):
+        body = _body(rule, binding)
+        if not leads_to(leads, body[1], body[2]) and is_sound(leads, guards, body[1]):
             return body
     return None
 
 
-def _deciding_bodies(rules, rule, names):
-    """The bodies by which it is decided whether a rule follows."""
-    if any([other.pairs != [] for other in rules]):
-        return bodies(rule, names)
-    # What follows by rules without pairs still does when names are exchanged for others, also unlike ones for one.
-    terms = variables_of(rule.told)
-    return [_body(rule, dict(zip(terms, fresh_names(len(terms), names))))]
-
-
 def _follows(rules, rule):
-    return _missing_body(rules, rule) is None
+    return missing_body(rules, [], rule) is None
 
 
 def _within(one, other):
@@ -162,7 +155,7 @@ def _within(one, other):
 def _parting(rules, others):
     """A least store, and a fact that follows from it by rules and not by others; None if there is none."""
     for rule in rules:
-        body = _missing_body(others, rule)
+        body = missing_body(others, [], rule)
         if body is not None:
             return _lessened(leads_of(rules), body[1], body[2])
     return None

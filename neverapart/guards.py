@@ -7,7 +7,7 @@ from neverapart.joins import by_kind, met
 from neverapart.needs import need_plain_book, need_question, need_store
 from neverapart.questions import answers_on
 from neverapart.tables import all_hold, always, fact_items, least_facts, lost_table, tables_of
-from neverapart.watching import breaks_on, is_broken
+from neverapart.watching import breaks_on, is_sound
 
 
 class Guard:
@@ -120,11 +120,6 @@ def need_guards(value):
         raise InvalidGuard(value)
     if len({part.label for part in value}) < len(value):
         raise InvalidGuard(value)
-
-
-def is_sound(leads, guards, store):
-    """Whether no guard has a match in what follows from a store by rules that are made ready as leads."""
-    return not is_broken(guards, by_kind(what_follows(leads, store)))
 
 
 def least_repairs(rules, guards, store, loose):

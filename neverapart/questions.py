@@ -1,12 +1,13 @@
 """Answers to questions, and whether two questions have the same ones in each store."""
 
 from neverapart.closing import leads_of, what_follows
+from neverapart.deciding import deciding_bindings
 from neverapart.errors import InvalidQuestion
-from neverapart.forms import filled, keeps_apart, variables_of
-from neverapart.givings import fresh_names, givings
-from neverapart.joins import by_kind, met, names_in, names_of_rules
+from neverapart.forms import filled, variables_of
+from neverapart.joins import by_kind, met, names_in
 from neverapart.needs import need_plain_book, need_question, need_store
 from neverapart.rules import Question
+from neverapart.watching import is_broken
 
 
 def answers(question, store):
@@ -28,16 +29,16 @@ def same_answers(one, other):
     """Whether two questions have the same answers in each store."""
     need_question(one)
     need_question(other)
-    return _same([], one, other)
+    return same_where([], [], one, other)
 
 
 def parting_store(one, other):
     """Any store in which two questions have unlike answers, and the same with any fact less; None if there is none."""
     need_question(one)
     need_question(other)
-    store = _parting_body([], one, other)
+    store = _parting_body([], [], one, other)
     if store is None:
-        store = _parting_body([], other, one)
+        store = _parting_body([], [], other, one)
     return None if store is None else _lessened(one, other, store)
 
 
@@ -46,7 +47,7 @@ def same_under(book, one, other):
     need_plain_book(book)
     need_question(one)
     need_question(other)
-    return _same(book.rules(), one, other)
+    return same_where(book.rules(), [], one, other)
 
 
 def core(question):
@@ -56,7 +57,7 @@ def core(question):
     for place in reversed(range(many)):
         less = _without_pattern(question, place)
         # With fewer patterns there are no fewer answers, so it is enough that there are no more.
-        if less is not None and _parting_body([], less, question) is None:
+        if less is not None and _parting_body([], [], less, question) is None:
             question = less
     return question
 
@@ -68,32 +69,22 @@ def answers_on(question, shelf):
     return sorted({tuple([row[place] for place in places]) for row in met(question.told, question.pairs, shelf)})
 
 
-def _same(rules, one, other):
-    return _parting_body(rules, one, other) is None and _parting_body(rules, other, one) is None
+def same_where(rules, guards, one, other):
+    """Whether two questions have the same answers in each store that is closed by rules and breaks no guard."""
+    first = _parting_body(rules, guards, one, other)
+    return first is None and _parting_body(rules, guards, other, one) is None
 
 
-def _parting_body(rules, one, other):
+def _parting_body(rules, guards, one, other):
     """A store from which an answer to one question follows that is none to the other one; None if there is none."""
     leads = leads_of(rules)
-    for match in _deciding_matches(rules, one, other):
-        binding = dict(zip(variables_of(one.told), match))
+    for binding in deciding_bindings(one, names_in(one.told, one.pairs), rules, guards, [other]):
         store = sorted({filled(pattern, binding) for pattern in one.told})
         answer = tuple([binding[column] for column in one.columns])
-        if answer not in answers_on(other, by_kind(what_follows(leads, store))):
+        shelf = by_kind(what_follows(leads, store))
+        if answer not in answers_on(other, shelf) and not is_broken(guards, shelf):
             return store
     return None
-
-
-def _deciding_matches(rules, one, other):
-    """The names for the variables of one question by which it is decided whether the other one has its answers."""
-    many = len(variables_of(one.told))
-    names = names_of_rules(rules) + names_in(one.told, one.pairs) + names_in(other.told, other.pairs)
-    fresh = fresh_names(many, names)
-    if other.pairs == [] and all([rule.pairs == [] for rule in rules]):
-        # Without pairs there, an answer stays one when names are exchanged for others, also unlike ones for one.
-        return [tuple(fresh)]
-    terms = variables_of(one.told)
-    return [row for row in givings(many, sorted(set(names)), fresh) if keeps_apart(one.pairs, dict(zip(terms, row)))]
 
 
 def _lessened(one, other, store):

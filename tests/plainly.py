@@ -109,6 +109,21 @@ WRONG["edition"] = [
         ([], {}, {"v": WAYS}), ([], {}, {"v": None}), ([], {}, {"": TWO}), ([], {}, None), ([], {("w",): WAYS}, {}), ([], {}, {True: TWO}),
     ]
 ]
+NO_DATES = [("p",), (ROW[0],), (ROW[0], True), (ROW[0], False), (ROW[0], "1"), (ROW[0], (1,)), (ROW[0], 1, 1), [ROW[0], 1], (("way", "X"), 1), (None, 1), (1, ROW[0]), 7]
+WRONG["dates"] = [
+    (errors.InvalidDates, thing)
+    for thing in but(ODD, empty_list) + [ROW, ((ROW[0], 1),), {ROW[0]: 1}, [(ROW[0], 1), (ROW[0], 2)], [(ROW[0], None), (ROW[1], 3), (ROW[0], None)]]
+    + [[(ROW[1], 5), one] for one in NO_DATES]
+]
+WRONG["moment"] = [(errors.InvalidNumber, thing) for thing in but(ODD, lambda thing: type(thing) is int) + ["1", [1], (1,)]]
+NO_CHANCES = [
+    None, True, 1, (1,), (1, 2, 3), [1, 2], (True, 1), (1, True), (False, 1), (0, 0), (1, 0), (2, 1), (-1, 2), (1, -2), (-1, -2), ("1", 2), (1, None), ((1, 2), 1),
+]
+WRONG["chances"] = [
+    (errors.InvalidChances, thing)
+    for thing in but(ODD, empty_list) + [ROW, ((ROW[0], (1, 2)),), {ROW[0]: (1, 2)}, [(ROW[0], (1, 2)), (ROW[0], (1, 3))], [[ROW[0], (1, 2)]], [(ROW[0],)]]
+    + [[(ROW[1], (1, 2)), (ROW[0], one)] for one in NO_CHANCES] + [[(one, (1, 2))] for one in NO_FACTS]
+]
 WRONG["count of at least 1"] = WRONG["count"] + [(errors.InvalidNumber, 0)]
 WRONG["plain rule"] = WRONG["rule"] + [(errors.NotPlain, DRY)]
 WRONG["plain book"] = WRONG["book"] + [(errors.NotPlain, Book([STEP, DRY]))]

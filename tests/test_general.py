@@ -83,6 +83,29 @@ INTERFACE = {
         **{name: ["book", "guards", "store", "question"] for name in ("surely", "perhaps")},
         **{name: ["book", "guards", "store", "could"] for name in ("tellable", "fullest")},
     },
+    "guarding": {
+        "guard_follows": ["book", "guards", "guard"], "guards_alike": ["book", "one", "other"], "parting_guards": ["book", "one", "other"],
+        "lean_guards": ["book", "guards"], "follows_under": ["book", "guards", "rule"], "alike_under": ["guards", "one", "other"],
+        "parting_under": ["guards", "one", "other"], "lean_under": ["guards", "book"],
+        "same_under_guards": ["book", "guards", "one", "other"], "leak": ["deeds", "guards"], "check_leak": ["deeds", "guards", "value"],
+    },
+    "guarded": {"GuardedEngine": ["store", "guards"], "guarded_again": ["store", "guards", "log"]},
+    "lapses": {
+        "stands_at": ["dated", "moment"], "closed_at": ["book", "dated", "moment"], "how_long": ["book", "dated", "fact"],
+        "last_moments": ["book", "dated"], "timetable": ["book", "dated"], "answer_terms": ["book", "question", "dated"],
+        "lasting": ["book", "dated", "fact"], "failing": ["book", "dated", "fact"],
+        **{name: ["book", "dated", "fact", "moment"] for name in ("prolongings", "cheapest", "cuts_short")},
+    },
+    "chances": {
+        **{name: ["book", "chanced", "fact"] for name in ("chance", "levers", "critical", "likeliest", "cases")},
+        **{name: ["book", "chanced", "facts"] for name in ("chance_all", "chance_some")},
+        "chance_given": ["book", "chanced", "fact", "known"], "expected": ["book", "chanced"],
+        **{name: ["book", "question", "chanced"] for name in ("answer_chances", "chance_answered", "spread")},
+        "check_cases": ["book", "chanced", "fact", "value"], "cases_chance": ["chanced", "value"],
+    },
+    "apart": {
+        "never_apart": ["one", "other"], "parting_script": ["one", "other"], "check_parting_script": ["one", "other", "value"],
+    },
 }
 MEMBERS = {
     ("rules", "Rule"): {"label": None, "head": None, "told": None, "pairs": None, "denied": None},
@@ -108,6 +131,9 @@ MEMBERS = {
     },
     ("making", "Maker"): {name: None for name in ("label", "heads", "told")},
     ("guards", "Guard"): {name: None for name in ("label", "told", "pairs")},
+}
+MEMBERS["guarded", "GuardedEngine"] = {
+    **MEMBERS["live", "Engine"], "guards": [], "put_guard": ["guard"], "drop_guard": ["label"], "tellable": ["could"], "room": ["fact"],
 }
 
 

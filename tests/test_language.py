@@ -8,7 +8,7 @@ import unittest
 
 FOLDER = pathlib.Path(__file__).resolve().parent.parent / "neverapart"
 BUILTINS = """len range enumerate zip min max sum abs sorted reversed int str bool list tuple dict set isinstance ord repr any all
-    divmod getattr hasattr setattr map iter next type ValueError TypeError KeyError IndexError""".split()
+    divmod getattr hasattr setattr map iter next type super ValueError TypeError KeyError IndexError""".split()
 METHODS = """append clear copy count endswith extend find get index insert isalnum isalpha isdigit islower isspace isupper items
     join keys ljust lower lstrip partition pop remove replace reverse rfind rjust rpartition rsplit rstrip setdefault split
     splitlines startswith strip update upper values zfill bit_length""".split()
@@ -148,6 +148,16 @@ class Language(unittest.TestCase):
                     call = above[node]
                     self.assertTrue(called(call) == "type" and isinstance(call.args[0], ast.Name), (name, node.lineno))
                     self.assertEqual(getattr(above[call], "attr", None), "__name__", (name, node.lineno))
+
+    def test_super_is_called_for_one_of_its_methods(self):
+        for name, _, tree in trees():
+            above = parents(tree)
+            for node in ast.walk(tree):
+                if isinstance(node, ast.Name) and node.id == "super":
+                    call = above[node]
+                    read, used = above[call], above[above[call]]
+                    self.assertTrue(isinstance(call, ast.Call) and not call.args and isinstance(used, ast.Call), (name, node.lineno))
+                    self.assertTrue(isinstance(read, ast.Attribute) and not read.attr.startswith("__"), (name, node.lineno))
 
     def test_tables_at_module_level_are_only_read(self):
         for name, _, tree in trees():

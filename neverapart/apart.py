@@ -50,55 +50,56 @@ def _are_same_books(one, other):
 
 
 def _parting_by_names(one, other):
-    """A command to which something that is there in just one edition makes unlike answers."""
-    for fact in one[0] + other[0]:
-        if fact not in one[0] or fact not in other[0]:
-            return [("tell", fact)]
-    for name in list(one[1]) + list(other[1]):
-        if name not in one[1] or name not in other[1]:
-            return [("drop", name)]
-    for name in list(one[2]) + list(other[2]):
-        if name not in one[2] or name not in other[2]:
-            return [("seen", name)]
-    return None
+    """A command to which something that is there in just one edition makes unlike answers; None if there is none."""
+    facts, books, views = [_lonely(these, those) for these, those in zip(one, other)]
+    if facts:
+        return [("tell", facts[0])]
+    if books:
+        return [("drop", books[0])]
+    return [("seen", views[0])] if views else None
+
+
+def _lonely(these, those):
+    """What stands in just one of two stores, or has a book or a view in just one of two editions, ascending."""
+    return sorted([thing for thing in these if thing not in those] + [thing for thing in those if thing not in these])
 
 
 def _parting_by_labels(one, other):
     """A command that puts a label in which the books of one name have in just one edition; None if there is none."""
-    for this, that in ((one, other), (other, one)):
-        for name in this[1]:
-            for label in this[1][name].labels():
-                if label not in that[1][name].labels():
-                    return [_command_with_label(label, that[1])]
+    for name in sorted(one[1]):
+        for these, those in ((one[1], other[1]), (other[1], one[1])):
+            labels = [label for label in these[name].labels() if label not in those[name].labels()]
+            if labels:
+                return [_command_with_label(labels[0], those)]
     return None
 
 
 def _command_with_label(label, library):
     """A command that puts a rule with a label in where it stands, or beside all books if it stands nowhere."""
     book = Book([Rule(label, ("x",), [])])
-    for name in library:
+    for name in sorted(library):
         if label in library[name].labels():
             return "exchange", name, book
-    return "put", fresh_names(1, list(library))[0], book
+    return "put", fresh_names(1, sorted(library))[0], book
 
 
 def _parting_by_books(one, other):
     """A script that asks for the fact at which the books of one name part; None if they are all alike."""
-    for name in one[1]:
+    for name in sorted(one[1]):
         value = parting(one[1][name], other[1][name])
         if value is not None:
             store, fact = value
-            dropped = [("drop", another) for another in one[1] if another != name]
+            dropped = [("drop", another) for another in sorted(one[1]) if another != name]
             return dropped + _towards(one[0], store) + [("ask", fact)]
     return None
 
 
 def _parting_by_views(one, other):
     """A script that sees a view where its questions have unlike answers; None if all have the same ones."""
-    for name in one[2]:
+    for name in sorted(one[2]):
         store = parting_store(one[2][name], other[2][name])
         if store is not None:
-            dropped = [("drop", another) for another in one[1]]
+            dropped = [("drop", another) for another in sorted(one[1])]
             return dropped + _towards(one[0], store) + [("seen", name)]
     return None
 

@@ -283,8 +283,9 @@ def _choice(here, this, that):
     """What stands at a spot where things meet that came of a third one."""
     if _are_alike(here, this):
         return here if _are_alike(here, that) else that
-    if _are_alike(here, that) or this is None:
+    if _are_alike(here, that):
         return this
+    # These two are alike; where nothing stands, or a fact, it makes no difference which of them is taken.
     return min([this, that], key=_writing)
 
 

@@ -72,7 +72,7 @@ def is_circle(makers, value):
     if not isinstance(store, list) or len(store) != 1 or not is_fact(store[0]) or not isinstance(steps, list):
         return False
     links = [_link_of(makers, step) for step in steps]
-    if not links or None in links:
+    if None in links:
         return False
     turns = [links[place - 1][1] == links[place][0] for place in range(len(links))]
     return all(turns) and any([link[2] == 1 for link in links]) and links[0][0][0] == kind_of(store[0])
@@ -101,7 +101,7 @@ def _links_to(maker, head):
 
 def _link_of(makers, step):
     """The link of makers with any object for its step, or None."""
-    if not isinstance(step, tuple) or len(step) != 4 or not all([is_count(part) for part in step[1:]]):
+    if not isinstance(step, tuple) or not all([is_count(part) for part in step[1:]]):
         return None
     for link in links_of(makers):
         if link[3] == step:

@@ -124,12 +124,11 @@ def check_cases(book, chanced, fact, value):
 def cases_chance(chanced, value):
     """The chance that a tree of cases comes to yes; None for any object that is no such tree."""
     _need_chances(chanced)
-    rows = sorted(chanced)
-    ends = _ends([fact for fact, _ in rows], value, 0, 0)
+    ends = _ends([fact for fact, _ in chanced], value, 0, 0)
     if ends is None:
         return None
-    parts = [_weight_on_way([odds for _, odds in rows], yes, no) for word, yes, no in ends if word == "yes"]
-    return _quotient(sum(parts), _product([whole for _, (_, whole) in rows]))
+    parts = [_weight_on_way([odds for _, odds in chanced], yes, no) for word, yes, no in ends if word == "yes"]
+    return _quotient(sum(parts), _product([odds[1] for _, odds in chanced]))
 
 
 class Worlds:
@@ -228,7 +227,7 @@ def _levers(book, chanced, fact):
     """The tuples of a given fact and of the part and the whole of its lever, ascending."""
     worlds = Worlds(book, chanced)
     table = worlds.table(fact)
-    odds = [chance_of_one for _, chance_of_one in sorted(chanced)]
+    odds = [own for _, own in sorted(chanced)]
     found = []
     for place, given in enumerate(worlds.stock):
         others = _weights(odds[:place] + [(1, 2)] + odds[place + 1:])

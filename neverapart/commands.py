@@ -56,7 +56,7 @@ def inward(lines):
 
 
 def _is_command(value):
-    if not isinstance(value, tuple) or len(value) == 0 or not isinstance(value[0], str):
+    if not isinstance(value, tuple) or len(value) == 0:
         return False
     word, more = value[0], value[1:]
     if word in ALONE:

@@ -15,7 +15,7 @@ def need_edition(value):
 def held_in(edition):
     """What an engine of an edition holds."""
     given, books, views = edition
-    return Holding(list(given), {name: books[name] for name in books}, {name: views[name] for name in views}, [])
+    return Holding(given, books, views, [])
 
 
 def edition_of(holding):

@@ -11,7 +11,7 @@ class GuardedEngine(Engine):
     """An engine with guards: every engine looks at its guards ahead of a change, but only this one has some."""
 
     def __init__(self, store, guards):
-        Engine.__init__(self, store)
+        super().__init__(store)
         need_guards(guards)
         self._course = begun(store, guards)
 

@@ -4,7 +4,7 @@ from neverapart.books import missing_body
 from neverapart.closing import leads_of, what_follows
 from neverapart.deciding import deciding_bindings
 from neverapart.firing import is_free, store_after
-from neverapart.forms import filled, is_name, is_store, keeps_apart, variables_of
+from neverapart.forms import filled, is_store, keeps_apart, variables_of
 from neverapart.givings import fresh_names, givings
 from neverapart.guards import need_guard, need_guards
 from neverapart.joins import by_kind, names_in
@@ -73,7 +73,7 @@ def parting_under(guards, one, other):
         for rule in rules:
             body = missing_body(others, guards, rule)
             if body is not None:
-                return _lessened(leads_of(rules), leads_of(others), guards, body[1])
+                return _lessened(leads_of(rules), leads_of(others), body[1])
     return None
 
 
@@ -121,7 +121,7 @@ def check_leak(deeds, guards, value):
     for deed in deeds:
         if deed.label == label:
             terms = variables_of(deed.told)
-            if not _is_row_of_names(match, len(terms)):
+            if not isinstance(match, tuple) or len(match) != len(terms):
                 return False
             binding = dict(zip(terms, match))
             return _leaks(deed, binding, guards, store) and _less_leaking(deed, binding, guards, store) is None
@@ -154,21 +154,15 @@ def _parting_body(rules, guards, others):
     return None
 
 
-def _lessened(leads, others, guards, store):
+def _lessened(leads, others, store):
     """A part of a store at which rules part under guards, and do not with any fact less."""
+    # The store is sound by the others, and so is each part of it. If it is not by the rules, they lead to more there.
     while True:
         lesser = [[fact for fact in store if fact != left] for left in store]
-        parted = [less for less in lesser if _parts(leads, others, guards, less)]
+        parted = [less for less in lesser if what_follows(leads, less) != what_follows(others, less)]
         if not parted:
             return store
         store = parted[0]
-
-
-def _parts(leads, others, guards, store):
-    """Whether a store is sound by some rules, and by others it is not or leads to other facts."""
-    first, second = what_follows(leads, store), what_follows(others, store)
-    broken = [is_broken(guards, by_kind(facts)) for facts in (first, second)]
-    return not all(broken) and (any(broken) or first != second)
 
 
 def _leak_through(deed, guard, guards):
@@ -214,7 +208,3 @@ def _least_leak(deed, binding, guards, store):
         if less is None:
             return store
         store = less
-
-
-def _is_row_of_names(value, many):
-    return isinstance(value, tuple) and len(value) == many and all([is_name(part) for part in value])

@@ -69,7 +69,7 @@ def blames(book, guards, store):
 def repairs(book, guards, store):
     """All lists of facts without which a store is sound, and is not if any of them stays."""
     _need_case(book, guards, store)
-    return least_repairs(book.rules(), guards, store, sorted(store))
+    return least_repairs(book.rules(), guards, store, store)
 
 
 def fewest(book, guards, store):

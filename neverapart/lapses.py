@@ -81,7 +81,7 @@ def failing(book, dated, fact):
     leads = leads_of(book.rules())
     left = [part for part, last in dated if last is None or last > end]
     needed = []
-    for part in sorted([part for part, last in dated if last is not None and last <= end]):
+    for part in sorted([part for part, _ in dated if part not in left]):
         if leads_to(leads, left + [part], fact):
             needed.append(part)
         else:
@@ -148,8 +148,8 @@ def _standing(dated, moment):
 
 def _stages(dated):
     """The tuples of each last moment, None first and then descending, and of the facts that last until then."""
-    ends = reversed(sorted({last for _, last in dated if last is not None}))
-    return [(end, _standing(dated, end)) for end in [None] + list(ends)]
+    ends = sorted({last for _, last in dated if last is not None})
+    return [(end, _standing(dated, end)) for end in [None] + ends[::-1]]
 
 
 def _ends(stages):

@@ -51,7 +51,8 @@ NO_COMMANDS = [thing for thing in NO_CHANGES if thing != ("ask", ROW[0]) and thi
     ("drop", ""), ("drop", ("w",)), ("exchange", "w", STEP), ("exchange", WAYS, "w"), ("view", "v", WAYS), ("view", "", TWO), ("unview", "V"),
     ("undo", None), ("redo", "a"), ("undo", ()), ("ask",), ("ask", "way"), ("ask", ()), ("ask", ["way", "X"]), ("ask", ("way", "X", 1)),
     ("why", ("way", "X")), ("why",), ("seen", "V"), ("seen", None), ("seen", "v", "v"), ("try",), ("try", None), ("try", ()), ("try", [[]]),
-    ("try", [("try", [("undo", 1)])]), ("try", [], []), ("try", ("undo",)), ["undo"], "undo", ("UNDO",), (True,), (("undo",),),
+    ("try", [("try", [("undo", 1)])]), ("try", [], []), ("try", ("undo",)), ["undo"], "undo", ("UNDO",), (True,), (("undo",),), ("ask", []),
+    ("tries", []), ("play", [("undo",)]), (["try"], []), (None, []), ("put", []), ("undo", []),
 ]
 
 

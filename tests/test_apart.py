@@ -106,6 +106,9 @@ class NeverApart(unittest.TestCase):
                 continue
             self.assertTrue(is_parting(one, other, script), script)
             self.assertEqual(parting_script(other=other, one=one), script)
+            # The order of keys means nothing.
+            turned = [(given, dict(reversed(books.items())), dict(reversed(views.items()))) for given, books, views in (one, other)]
+            self.assertEqual(parting_script(*turned), script)
             seen["parted"] += 1
             seen["short" if len(script) == 1 else "long"] += 1
             self.judge(one, other, script, chance)
@@ -155,6 +158,13 @@ class NeverApart(unittest.TestCase):
                 self.assertTrue(is_parting(one, other, script), script)
                 self.assertLessEqual(len(script), max(1, len(words)))
             self.assertEqual(sorted({command[0] for command in script} - {"ask"}), words)
+        # The order of keys means nothing, though books of two names part, and views of two names.
+        halves = [{"a": Book([rule]), "b": Book([Rule("s", ("far",), rule.told)])} for rule in rules]
+        views = [{"u": Question([], [(word,)]), "v": Question([], [(word,), ("sun",)])} for word in "pq"]
+        for pair in ([([], half, {}) for half in halves], [([], {}, view) for view in views]):
+            for script in (parting_script(*pair), parting_script(*[(given, dict(reversed(half.items())), dict(reversed(view.items()))) for given, half, view in pair])):
+                self.assertTrue(is_parting(*pair, script))
+                self.assertEqual(script, parting_script(*pair))
         # Views: what hides the difference has to go.
         hidden = ([("way", "a", "a")], {"w": Book([Rule("all", ("way", "X", "X"), [("road", "X", "Y")])])}, {})
         views = [Question([], [("way", "X", "X")]), Question([], [("way", "X", "Y")])]

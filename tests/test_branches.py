@@ -538,6 +538,7 @@ class Trees(unittest.TestCase):
         tree.change("b", ("tell", AB))
         tree.join("main", "b").clear()
         self.assertEqual([tree.log("main"), tree.edition("b"), tree.branches()], [[("tell", SUN), ("tell", AB)], ([RAIN, AB, SUN], {}, {}), ["b", "main"]])
+        self.assertEqual(tree.log("b"), [("tell", SUN), ("tell", AB)])
 
 
 if __name__ == "__main__":

@@ -411,6 +411,7 @@ class Parts(unittest.TestCase):
         store, guards, log = ROW[::-1], [BACK], [("put", "ways", WAYS), ("guard", TWIN), ("view", "v", ROUND)]
         engine, again = GuardedEngine(store, guards), guarded_again(store, guards, log)
         store.clear(), guards.clear(), log.clear()
+        self.assertEqual([engine.guards(), again.guards(), engine.given()], [[BACK], [BACK, TWIN], ROW])
         for one in (engine, again):
             kept = [one.given(), one.guards(), one.log(), one.closed(), one.tellable(TOWN), one.room(CA)]
             for thing in (one.given(), one.guards(), one.log(), one.closed(), one.tellable(TOWN), one.room(CA)):

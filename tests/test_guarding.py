@@ -338,6 +338,20 @@ class Leaks(unittest.TestCase):
         for thing in ODD:
             self.assertIs(check_leak([CALL], [ONE], thing), False)
 
+    def test_names_of_deeds(self):
+        # Only with the name that stands in its told pattern does the deed lead to what is not sound.
+        key = Deed("key", 0, [("hut", "a"), ("key", "X")], [], [("at", "X")])
+        guards = [Guard("both", [("at", "X"), ("hut", "X")]), TWIN]
+        self.assertEqual(leak([key], guards), ([("hut", "a"), ("key", "a")], "key", ("a",)))
+        # A name that is denied is not taken for a fresh one.
+        for name in ("x", "xx"):
+            shy = Deed("shy", 0, [("hut", "X")], [], [("at", "X")], None, [("hut", name), ("at", name)])
+            value = leak([shy], [ONE])
+            self.assertTrue(check_leak([shy], [ONE], value) and self.is_leak([shy], [ONE], value))
+        # Names of other guards, too.
+        some = [Guard("one", [("hut", "x")]), Guard("two", [("at", "X")])]
+        self.assertTrue(self.is_leak([CALL], some, leak([CALL], some)))
+
 
 class Arguments(unittest.TestCase):
     def test_wrong_arguments(self):
@@ -363,6 +377,9 @@ class Arguments(unittest.TestCase):
     def test_nothing_is_shared(self):
         guards, deeds = [BACK, MEET, TWIN], [GO, CALL]
         lean_guards(WAYS, guards).append(1)
+        alone = [BACK]
+        lean_guards(WAYS, alone).append(1)
+        self.assertEqual(alone, [BACK])
         parting_guards(WAYS, guards, []).append(1)
         parting_under([LOOP], WAYS, WAYS + Book([LONE])).append(1)
         leak(deeds, [ONE])[0].append(1)

@@ -26,7 +26,7 @@ class Guards(unittest.TestCase):
         told.append(1), pairs.append(1)
         self.assertEqual([len(guard.told), len(guard.pairs)], [2, 2])
         self.assertTrue(Guard("g", [("p", "X")]) == Guard("g", [("p", "X")], []) and not Guard("g", []) != Guard("g", [], []))
-        for other in (Guard("g", TWIN.told, TWIN.pairs), Guard("twin", TWIN.told), Guard("twin", TWIN.told[:1]), Guard("twin", TWIN.told, [("Y", "X")]),
+        for other in (Guard("g", TWIN.told, TWIN.pairs), Guard("twin", TWIN.told), Guard("twin", TWIN.told[::-1], TWIN.pairs), Guard("twin", TWIN.told, [("Y", "X")]),
                       Question([], TWIN.told, TWIN.pairs), None, "twin"):
             self.assertFalse(TWIN == other)
 

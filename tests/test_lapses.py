@@ -110,6 +110,10 @@ class Moments(unittest.TestCase):
             never, longest = never + (expected == []), max(longest, len(expected))
         self.assertTrue(never > 20 and longest > 1, (never, longest))
         self.assertEqual(answer_terms(Book([]), Question([], []), []), [((), None)])
+        # In the order of the answers, not of the moments.
+        some = [(("p", "c"), 7), (("p", "b"), None), (("p", "a"), 3)]
+        self.assertEqual(answer_terms(Book([]), Question(["X"], [("p", "X")]), some), [(("a",), 3), (("b",), None), (("c",), 7)])
+        self.assertEqual(last_moments(Book([]), some), some[::-1])
         self.assertEqual(answer_terms(Book([]), Question([], [("p",)]), [(("p",), -4)]), [((), -4)])
 
     def test_papers_that_last_and_lists_that_fail(self):

@@ -90,6 +90,7 @@ class Lots(unittest.TestCase):
         self.assertEqual(adds(WAYS, ROW, [("road", "c", "a")], AC), [[]])
         self.assertEqual(adds(WAYS, ROW, [], ("way", "c", "a")), [])
         self.assertEqual(adds(WAYS, ROW, ROW, ("way", "c", "a")), [])
+        self.assertEqual([adds(WAYS, ROW, ROW, AC), adds(WAYS, ROW, ROW + [("road", "c", "a")], ("way", "c", "a"))], [[[]], [[("road", "c", "a")]]])
         self.assertEqual([adds(WAYS, [], ROW, AC), adds(WAYS, [], ROW[::-1], AC)], [[ROW], [ROW]])
         self.assertEqual(adds(WAYS, ROW, [("hut", "a"), ROW[0]], ("hut", "a")), [[("hut", "a")]])
 

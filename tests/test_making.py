@@ -441,6 +441,10 @@ class Sure(unittest.TestCase):
         self.assertTrue(maker_follows([], Maker("n", [("man", "U", "X")], ("man", "Y", "X")), 0))
         self.assertFalse(maker_follows([], Maker("n", [("man", "U", "U")], ("man", "Y", "X")), 0))
         self.assertTrue(maker_follows([OWN], OWN, 1))
+        # The names of the fact that is tried stand in no head.
+        for name in ("a", "x", "xx"):
+            self.assertFalse(maker_follows([Maker("m", [("q", name)], ("p", "X"))], Maker("n", [("q", "X")], ("p", "X")), 0))
+            self.assertFalse(maker_follows([Maker("m", [("q", "X")], ("p", "X"))], Maker("n", [("q", name)], ("p", "X")), 0))
         # Too many things come, though the first one already shows that it follows.
         with self.assertRaises(TooMany) as caught:
             maker_follows([SON], Maker("n", [("son", "U", "X")], ("man", "X")), 7)

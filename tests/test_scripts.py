@@ -383,6 +383,24 @@ class Ends(unittest.TestCase):
         self.assertEqual(trimmed(one + more), [("put", "w", WAYS), ("unview", "v")])
         self.assertEqual(trimmed(one + [("exchange", "w", Book([])), ("exchange", "w", WAYS)]), one + [("exchange", "w", WAYS)])
 
+    def test_books_that_are_alike_on_some_stores_alone(self):
+        # Behind an undo that takes back what is told, or else what was exchanged, stands the one book or the other.
+        alike_one, other = Book([FAR, STEP]), Book([STEP])
+        for first, second, store in ((alike_one, other, [("p",)]), (other, alike_one, [])):
+            one, two = [("put", "w", WAYS)], [("put", "w", second), ("exchange", "w", first), ("tell", ("p",)), ("undo",)]
+            self.assertEqual([parting_start(one, two), parting_start(two, one)], [store, store])
+        more = [("put", "w", other), ("exchange", "w", alike_one), ("tell", ("p",)), ("undo",)]
+        self.assertEqual(trimmed(more), more)
+
+    def test_what_is_undone_behind_what_was_made_again(self):
+        p, q, undo, redo = ("tell", ("p",)), ("tell", ("q",)), ("undo",), ("redo",)
+        for one, other in (([p, undo, redo, undo], [p, undo]), ([p, q, undo, undo, redo, redo, undo], [p, q, undo]), ([p, q, undo, undo, redo, redo, undo, redo], [p, q])):
+            self.assertEqual(parting_start(one, other), None)
+        self.assertEqual(parting_start([p, q, undo, redo, undo], [p, q]), [])
+        kept = [p, q]
+        trimmed(kept).append(1)
+        self.assertEqual(kept, [p, q])
+
     def test_six_facts_and_long_scripts(self):
         facts = [("p", name) for name in "abcdef"]
         script = [("tell", fact) for fact in facts] + [("take", fact) for fact in facts]

@@ -81,7 +81,7 @@ def failing(book, dated, fact):
     leads = leads_of(book.rules())
     left = [part for part, last in dated if last is None or last > end]
     needed = []
-    for part in sorted([part for part, _ in dated if part not in left]):
+    for part in sorted([given for given, _ in dated if given not in left]):
         if leads_to(leads, left + [part], fact):
             needed.append(part)
         else:

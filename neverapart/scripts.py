@@ -174,11 +174,9 @@ def _height(paper):
         if not papers:
             return height
         height += 1
-        level = []
-        for part in [part for line in papers for part in line[3]]:
-            # Equal papers are looked at once only, as few objects may stand for very many lines.
-            if part not in level:
-                level.append(part)
+        parts = [part for line in papers for part in line[3]]
+        # Equal papers are looked at once only, as few objects may stand for very many lines.
+        level = [one for place, one in enumerate(parts) if one not in parts[:place]]
 
 
 def _starts(script):

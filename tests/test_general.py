@@ -5,10 +5,18 @@ import inspect
 import unittest
 
 from neverapart.books import follows, slim
+from neverapart.branches import Tree, weaves
+from neverapart.chances import chance
 from neverapart.closing import closed
+from neverapart.guarding import lean_guards
+from neverapart.guards import Guard, fewest
+from neverapart.lapses import cuts_short, how_long
+from neverapart.live import Engine
+from neverapart.making import Maker, grown
 from neverapart.matching import best_order, matches
 from neverapart.papers import count_papers
 from neverapart.rules import Book, Question, Rule
+from neverapart.scripts import play, read_script, script_text
 
 INTERFACE = {
     "rules": {
@@ -177,6 +185,30 @@ class Limits(unittest.TestCase):
         self.assertEqual(best_order(Question([], told[:5]), ring), [0, 1, 2, 3, 4])
         self.assertTrue(follows(plain, Rule("s", ("way", "A", "G"), told)))
         self.assertEqual(slim(plain), plain)
+
+    def test_a_little_beyond_the_limits_of_later_sections(self):
+        names = "abcdefghij"
+        huts = [("hut", name) for name in names]
+        book = Book([Rule("r", ("all",), [("hut", name) for name in names[:5]])])
+        self.assertEqual(chance(book, [(fact, (1, 2)) for fact in huts], ("all",)), (1, 32))
+        self.assertEqual(how_long(book, [(fact, at) for at, fact in enumerate(huts)], ("all",)), ("until", 0))
+        self.assertEqual(len(cuts_short(book, [(fact, at) for at, fact in enumerate(huts)], ("all",), 0)), 5)
+        guards = [Guard("g" + name, [("hut", name), ("hut", "X"), ("hut", "Y"), ("hut", "Z")], [("X", "Y"), ("Y", "Z"), ("X", name)]) for name in names[:5]]
+        self.assertEqual([fewest(book, guards, huts), len(lean_guards(book, guards))], [5, 5])
+        self.assertEqual(len(weaves(([], {}, {}), [("tell", fact) for fact in huts[:5]], [("tell", fact) for fact in huts[4:8]])), 1)
+        makers = [Maker("m" + name, [("p", "X", "U"), ("q", "U", "V"), ("r", "V", "X"), ("hut", "X")], ("hut", "X")) for name in names[:5]]
+        self.assertEqual(len(grown(makers, huts, 100)), 10 + 5 * 10 * 3)
+        script = [("tell", ("deep",))]
+        for _ in range(8):
+            script = [("try", script), ("ask", ("deep",))]
+        script = script + [("tell", fact) for fact in huts] * 5
+        engine = Engine([])
+        self.assertEqual([read_script(script_text(script)) == script, len(play(engine, script)), len(engine.log())], [True, 52, 10])
+        tree = Tree([])
+        for place, name in enumerate(names):
+            tree.change("main", ("tell", huts[place]))
+            tree.fork("main", place + 1, name)
+        self.assertEqual([tree.base("a", "j"), len(tree.join("a", "main"))], [1, 9])
 
 
 class Values(unittest.TestCase):

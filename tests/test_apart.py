@@ -166,11 +166,13 @@ class NeverApart(unittest.TestCase):
                 self.assertTrue(is_parting(*pair, script))
                 self.assertEqual(script, parting_script(*pair))
         # Views: what hides the difference has to go.
-        hidden = ([("way", "a", "a")], {"w": Book([Rule("all", ("way", "X", "X"), [("road", "X", "Y")])])}, {})
         views = [Question([], [("way", "X", "X")]), Question([], [("way", "X", "Y")])]
-        one, other = [(hidden[0], hidden[1], {"v": view}) for view in views]
-        script = parting_script(one, other)
-        self.assertTrue(is_parting(one, other, script) and len(script) > 1 and script[-1] == ("seen", "v"))
+        for body, given in (([("road", "X", "Y")], [("way", "a", "a")]), ([("way", "X", "Y")], []), ([("way", "X", "Y")], [("way", "a", "a")])):
+            books = {"w": Book([Rule("all", ("way", "X", "X"), body)]), "z": Book([])}
+            one, other = [(given, books, {"v": view}) for view in views]
+            script = parting_script(one, other)
+            self.assertTrue(is_parting(one, other, script) and len(script) > 1 and script[-1] == ("seen", "v"), script)
+            self.assertEqual(("drop", "w") in script, body[0][0] == "way")
 
     def test_nothing_that_a_script_without_why_says(self):
         for one in TWINS:
